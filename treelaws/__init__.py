@@ -1,0 +1,1 @@
+"""Treelaws: equations between numbers computed over trees."""
