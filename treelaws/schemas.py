@@ -63,7 +63,7 @@ def children_of(schema, tag):
 def empty_kinds(schema):
     """Returns the ascending list of the kinds without trees."""
     filled = _filled_kinds(schema)
-    return sorted([kind for kind in schema if kind not in filled])
+    return sorted([kind for kind in schema if kind not in filled], key=str)
 
 
 def kinds_within(schema, kind):
@@ -79,7 +79,7 @@ def kinds_within(schema, kind):
             if child not in within:
                 within[child] = True
                 ahead.append(child)
-    return sorted(list(within))
+    return sorted(list(within), key=str)
 
 
 def _filled_kinds(schema):

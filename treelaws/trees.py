@@ -29,10 +29,10 @@ def _children_at(variants, thing):
 
 def size_of(tree):
     """Returns the number of the tags of a tree."""
-    return len(_parts_of(tree))
+    return len(parts_of(tree))
 
 
-def _parts_of(tree):
+def parts_of(tree):
     """Returns the list of all parts, each ahead of its own parts, from the left."""
     parts = []
     ahead = [tree]
@@ -85,10 +85,9 @@ def _parts_along(tree, path):
 def in_order(schema, some):
     """Returns the list of some trees of one kind in order, without duplicates."""
     places = {variant[0]: place for variants in schema.values() for place, variant in enumerate(variants)}
-    keys = sorted([(_order_key(places, tree), index) for index, tree in enumerate(some)])
     found = []
     last = None
-    for key, index in keys:
+    for key, index in sorted(set([(_order_key(places, tree), index) for index, tree in enumerate(some)])):
         if key != last:
             found.append(some[index])
         last = key
@@ -96,27 +95,25 @@ def in_order(schema, some):
 
 
 def _order_key(places, tree):
-    """Returns the flat list of the size and the variant's place of all parts of a tree.
+    """Returns the flat tuple of the size and the variant's place of all parts of a tree.
 
     Two trees with the same numbers so far have the same variants so far, so that the first
-    place where their lists differ is about the first parts at which the trees do.
+    place where their tuples differ is about the first parts at which the trees do.
     """
     key = []
-    parts = _parts_of(tree)
+    parts = parts_of(tree)
     for part, size in zip(parts, _sizes_of(parts)):
         key.append(size)
         key.append(places[part[0]])
-    return key
+    return tuple(key)
 
 
 def _sizes_of(parts):
-    """Returns the list of the sizes of the parts that _parts_of returns."""
+    """Returns the list of the sizes of the parts that parts_of returns."""
     sizes = []
     below = []
     for part in reversed(parts):
-        size = 1
-        for _ in part[1:]:
-            size += below.pop()
+        size = 1 + sum([below.pop() for _ in part[1:]])
         below.append(size)
         sizes.append(size)
     return sizes[::-1]

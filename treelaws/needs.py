@@ -1,0 +1,50 @@
+"""What arguments must be: each function raises the error that the document tells, or does nothing."""
+
+from treelaws.errors import NoForm, NoKind, NoNumber, NoSheet, TooMany
+from treelaws.integers import is_integer
+from treelaws.names import are_names, is_name
+from treelaws.products import how_many_products
+from treelaws.sheets import is_sheet
+
+_MOST_DEGREE = 3
+_MOST_PRODUCTS = 4000
+
+
+def need_equations(sheet, degree):
+    """Raises what all that works with equations raises for any sheet and degree, up to TooMany(4000)."""
+    if not is_sheet(sheet):
+        raise NoSheet("what is passed is no sheet")
+    if not is_integer(degree) or not 1 <= degree <= _MOST_DEGREE:
+        raise NoForm("a degree is an integer from 1 to 3")
+    need_few_products(sheet, degree)
+
+
+def need_few_products(sheet, degree):
+    """Raises TooMany(4000) if some tag has too many products of its children's numbers."""
+    schema, numbers, _ = sheet
+    many = {kind: how_many_products(len(names), degree) for kind, names in numbers.items()}
+    for variants in schema.values():
+        for _, children in variants:
+            count = 1
+            for child in children:
+                count = count * many[child]
+            if count > _MOST_PRODUCTS:
+                raise TooMany(_MOST_PRODUCTS)
+
+
+def need_kind(sheet, kind):
+    """Raises NoKind unless any object is a kind of a sheet."""
+    if not is_name(kind) or kind not in sheet[0]:
+        raise NoKind("what is passed is no kind of the sheet")
+
+
+def need_number(sheet, kind, name):
+    """Raises NoNumber unless any object is a number of a kind."""
+    if not is_name(name) or name not in sheet[1][kind]:
+        raise NoNumber("what is passed is no number of the kind")
+
+
+def need_numbers(sheet, kind, names):
+    """Raises NoNumber unless any object is a tuple of different numbers of a kind."""
+    if not are_names(names) or not all([name in sheet[1][kind] for name in names]):
+        raise NoNumber("what is passed is no tuple of different numbers of the kind")
