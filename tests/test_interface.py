@@ -20,7 +20,39 @@ LISTED = {
         "is_tree": ["schema", "kind", "thing"], "size_of": ["tree"], "paths": ["tree"], "part_at": ["tree", "path"],
         "put_at": ["tree", "path", "part"], "in_order": ["schema", "some"], "how_many": ["schema", "kind", "size"],
         "trees": ["schema", "kind", "size"], "least_tree": ["schema", "kind"]},
+    "sheets": {
+        "is_sheet": ["thing"], "values": ["sheet", "tree"], "named_values": ["sheet", "tree"], "all_values": ["sheet", "tree"],
+        "renamed": ["sheet", "names"]},
+    "forms": {"Form": ["terms"]},
+    "spaces": {"Space": ["names", "degree", "forms"]},
+    "equations": {"first_trees": ["sheet", "degree"], "equations": ["sheet", "degree"]},
+    "papers": {
+        "certificate": ["sheet", "degree"], "shows_equations": ["sheet", "degree", "thing"],
+        "shows_closed": ["sheet", "degree", "thing"], "order_certificate": ["sheet", "degree"],
+        "shows_order": ["sheet", "degree", "thing"]},
+    "breaks": {
+        "first_breaks": ["sheet", "kind", "forms"], "first_break": ["sheet", "kind", "form"],
+        "all_breaks": ["sheet", "kind", "forms"], "holds": ["sheet", "kind", "form"]},
+    "told": {
+        "lower_multiples": ["sheet", "kind", "degree"], "new_equations": ["sheet", "kind", "degree"],
+        "told_by": ["sheet", "kind", "name", "others"], "untold": ["sheet", "kind", "name", "others"],
+        "shows_untold": ["sheet", "kind", "name", "others", "thing"]},
+    "stored": {
+        "is_enough": ["sheet", "kind", "names"], "cheapest_sets": ["sheet", "kind", "prices"],
+        "stored": ["sheet", "kind", "prices"], "shows_stored": ["sheet", "kind", "prices", "thing"],
+        "exchanges": ["sheet", "kind", "prices", "one", "other"]},
 }
+
+# file and class: its methods, each with its parameters behind self
+METHODS = {
+    ("forms", "Form"): {name: ["other"] for name in (
+        "__add__ __radd__ __sub__ __rsub__ __mul__ __rmul__ __eq__ __lt__ __le__ __gt__ __ge__").split()} | {
+        "__neg__": [], "__bool__": [], "__len__": [], "__str__": [], "__contains__": ["name"], "__call__": ["values"]},
+    ("spaces", "Space"): {
+        "columns": [], "free": [], "rest": ["form"], "within": ["other"], "__or__": ["other"], "__and__": ["other"],
+        "__eq__": ["other"], "__contains__": ["form"], "__len__": [], "__bool__": []},
+}
+ATTRIBUTES = {("forms", "Form"): ("terms", "degree", "names"), ("spaces", "Space"): ("names", "degree", "basis")}
 
 
 class InterfaceTest(unittest.TestCase):
@@ -39,6 +71,27 @@ class InterfaceTest(unittest.TestCase):
             for name, parameters in names.items():
                 if parameters is not None:
                     self.assertEqual(list(inspect.signature(getattr(module, name)).parameters), parameters, name)
+
+    def test_methods_stand_in_the_class_itself(self):
+        for (file, name), methods in METHODS.items():
+            tree = ast.parse((ROOT / "treelaws" / f"{file}.py").read_text())
+            body = next(node for node in tree.body if isinstance(node, ast.ClassDef) and node.name == name).body
+            defined = {node.name: [arg.arg for arg in node.args.args] for node in body if isinstance(node, ast.FunctionDef)}
+            for method, parameters in methods.items():
+                self.assertEqual(defined[method], ["self"] + parameters, (name, method))
+
+    def test_static_methods(self):
+        found = importlib.import_module("treelaws.forms").Form
+        for name in ("named", "number"):
+            self.assertIsInstance(vars(found)[name], staticmethod)
+            self.assertEqual(len(inspect.signature(getattr(found, name)).parameters), 1)
+
+    def test_attributes_are_set_on_each_object(self):
+        forms, spaces = importlib.import_module("treelaws.forms"), importlib.import_module("treelaws.spaces")
+        for (_, name), attributes in ATTRIBUTES.items():
+            made = forms.Form(()) if name == "Form" else spaces.Space((), 0, ())
+            for attribute in attributes:
+                self.assertIn(attribute, vars(made))
 
     def test_trees_generates(self):
         module = importlib.import_module("treelaws.trees")

@@ -73,7 +73,9 @@ def _need_prices(sheet, kind, prices):
 
 def _cheapest_sets(numbers, space, prices):
     """Returns the list of the cheapest sets of some numbers, in order, by the space of the equations of degree 1."""
-    sets = [names for names in _subsets(numbers) if _is_least(space, names)]
+    size = _size_of_least(numbers, space)
+    # All least sets have this size, and a set of this size that is enough is least.
+    sets = [names for names in _subsets(numbers) if len(names) == size and _tell_all(space, names)]
     least = min([int(_price_of(names, prices)) for names in sets])
     return [names for names in sets if _price_of(names, prices) == least]
 
@@ -86,21 +88,18 @@ def _subsets(numbers):
     return found
 
 
-def _is_least(space, names):
-    """Returns whether a set of numbers is least: it tells all others, and none of it is told by the rest of it."""
-    if any([equation_by(space, name, _without(names, name)) is not None for name in names]):
-        return False
-    return _tell_all(space, names)
+def _size_of_least(numbers, space):
+    """Returns the size of all least sets of some numbers."""
+    names = ()
+    for name in numbers:
+        if equation_by(space, name, names) is None:
+            names = names + (name,)
+    return len(names)
 
 
 def _tell_all(space, names):
     """Returns whether some numbers tell all others."""
     return all([equation_by(space, name, names) is not None for name in space.names if name not in names])
-
-
-def _without(names, name):
-    """Returns some names without one of them."""
-    return tuple([other for other in names if other != name])
 
 
 def _price_of(names, prices):

@@ -37,9 +37,10 @@ def _lower_multiples(space):
     forms = []
     # The equations of a lesser degree are just the sums of basis forms of at most this degree.
     for form in space.basis:
-        if form.degree < space.degree:
-            left = space.degree - (form.degree if form.degree > 1 else 1)
-            forms.extend([form * Form(((1, product),)) for product in all_products(space.names, left)])
+        least = form.degree if form.degree > 1 else 1
+        if least < space.degree:
+            further = all_products(space.names, space.degree - least)
+            forms.extend([form * Form(((1, product),)) for product in further])
     return Space(space.names, space.degree, forms)
 
 

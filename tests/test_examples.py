@@ -1,0 +1,71 @@
+"""The examples of the document, as they stand there."""
+
+import doctest
+import sys
+import unittest
+
+EXAMPLES = r"""
+# Stage 4
+>>> from treelaws.forms import Form
+>>> x, y = Form.named("x"), Form.named("y")
+>>> form = (x + 2) * (x - y) - 3
+>>> [str(form), form.terms, form.degree, len(form), "y" in form, form({"x": 1, "y": 5}), str(5 - y * 0)]
+['x*x - x*y + 2*x - 2*y - 3', ((1, ('x', 'x')), (-1, ('x', 'y')), (2, ('x',)), (-2, ('y',)), (-3, ())), 2, 5, True, -15, '5']
+
+# Stage 5
+>>> from treelaws.forms import Form
+>>> from treelaws.spaces import Space
+>>> x, y = Form.named("x"), Form.named("y")
+>>> one, other = Space(("x", "y"), 1, [2 * x + 4 * y, 3 * x - 3]), Space(("y", "x"), 1, [x + 2 * y, y + 7])
+>>> [[str(form) for form in space.basis] for space in (one, one & other, one | other)] + [str(one.rest(2 * x + y - 1)[1])]
+[['x - 1', '2*y + 1'], ['x + 2*y'], ['x', 'y', '1'], '1']
+
+# Stage 6
+>>> from treelaws.equations import first_trees, equations
+>>> schema = {"tree": (("leaf", ()), ("join", ("tree", "tree")))}
+>>> rules = {"leaf": (((1, ()),), ((1, ()),), ()), "join": (((1, ()), (1, ((0, "tags"),)), (1, ((1, "tags"),))), ((1, ((0, "leaves"),)), (1, ((1, "leaves"),))), ((1, ()), (1, ((0, "joins"),)), (1, ((1, "joins"),))))}
+>>> sheet = (schema, {"tree": ("tags", "leaves", "joins")}, rules)
+>>> [[str(form) for form in equations(sheet, 1)["tree"].basis], first_trees(sheet, 1)["tree"], len(equations(sheet, 2)["tree"])]
+[['2*joins - tags + 1', '2*leaves - tags - 1'], (('leaf',), ('join', ('leaf',), ('leaf',))), 7]
+
+# Stage 7
+>>> from treelaws.papers import certificate, order_certificate, shows_closed, shows_equations, shows_order
+>>> rules = {"end": ((), ((1, ()),)), "more": (((1, ()), (1, ((0, "steps"),))), ((2, ((0, "power"),)),))}
+>>> sheet = ({"row": (("end", ()), ("more", ("row",)))}, {"row": ("steps", "power")}, rules)
+>>> found = order_certificate(sheet, 1)
+>>> [certificate(sheet, 1), shows_equations(sheet, 1, certificate(sheet, 1)), shows_closed(sheet, 1, {"row": (((1, ("steps",)),),)}), [pair[0] for pair in found[1]["row"]], shows_order(sheet, 1, found)]
+[({'row': ()}, {'row': (('end',), ('more', ('end',)), ('more', ('more', ('end',))))}), True, False, [('end',), ('more', ('end',)), ('more', ('more', ('end',)))], True]
+
+# Stage 8
+>>> from treelaws.breaks import all_breaks, first_breaks, holds
+>>> from treelaws.forms import Form
+>>> rules = {"end": ((), ((1, ()),)), "more": (((1, ()), (1, ((0, "steps"),))), ((2, ((0, "power"),)),))}
+>>> sheet = ({"row": (("end", ()), ("more", ("row",)))}, {"row": ("steps", "power")}, rules)
+>>> steps, power = Form.named("steps"), Form.named("power")
+>>> [first_breaks(sheet, "row", (power - steps - 1, steps * steps - steps)), all_breaks(sheet, "row", (steps, power)), holds(sheet, "row", power - 2 * steps)]
+[(('more', ('more', ('end',))), (0, 1)), [('more', ('end',)), ('end',)], False]
+
+# Stage 9
+>>> from treelaws.told import new_equations, told_by, untold
+>>> rules = {"end": ((), ()), "more": (((1, ()), (1, ((0, "steps"),))), ((1, ((0, "steps"),)), (1, ((0, "sum"),))))}
+>>> sheet = ({"row": (("end", ()), ("more", ("row",)))}, {"row": ("steps", "sum")}, rules)
+>>> [told_by(sheet, "row", "sum", ("steps",)), untold(sheet, "row", "sum", ("steps",)), [str(form) for form in new_equations(sheet, "row", 2)]]
+[None, ((1, ('end',)), (-2, ('more', ('end',))), (1, ('more', ('more', ('end',))))), ['steps*steps - steps - 2*sum']]
+
+# Stage 10
+>>> from treelaws.stored import exchanges, stored
+>>> tags, leaves = ((1, ()), (1, ((0, "tags"),)), (1, ((1, "tags"),))), ((1, ((0, "leaves"),)), (1, ((1, "leaves"),)))
+>>> sheet = ({"tree": (("leaf", ()), ("join", ("tree", "tree")))}, {"tree": ("tags", "leaves")}, {"leaf": (((1, ()),), ((1, ()),)), "join": (tags, leaves)})
+>>> [stored(sheet, "tree", {"tags": 5, "leaves": 1}), exchanges(sheet, "tree", {"tags": 3, "leaves": 3}, ("leaves",), ("tags",))]
+[(1, ('leaves',), (('tags', 1, ((2, ('leaves',)), (-1, ()))),)), [('leaves',), ('tags',)]]
+"""
+
+
+class ExamplesTest(unittest.TestCase):
+    def test_examples(self):
+        for part in EXAMPLES.split("# Stage ")[1:]:
+            stage, examples = part.split("\n", 1)
+            test = doctest.DocTestParser().get_doctest(examples, {}, f"stage {stage}", None, 0)
+            failed, tried = doctest.DocTestRunner(verbose=False).run(test, out=sys.stderr.write)
+            self.assertEqual(failed, 0, stage)
+            self.assertGreater(tried, 3)
