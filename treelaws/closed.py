@@ -20,7 +20,7 @@ def are_closed(sheet, degree, spaces):
             # The last product of a kind is that of no names.
             start = tuple([len(products[child]) - 1 for child in children])
             made = _products_made(products[kind], ruled, start, [further[child] for child in children])
-            if forms and not _all_cancel(forms, made, [left[child] for child in children]):
+            if not _all_cancel(forms, made, [left[child] for child in children]):
                 return False
     return True
 
