@@ -175,8 +175,8 @@ def _text_of(terms):
     """Returns the text of a form with some terms."""
     if not terms:
         return "0"
-    first = ("-" if terms[0][0] < 0 else "") + _text_without_sign(terms[0])
-    return first + "".join([(" - " if term[0] < 0 else " + ") + _text_without_sign(term) for term in terms[1:]])
+    signs = ["-" if terms[0][0] < 0 else ""] + [" - " if factor < 0 else " + " for factor, _ in terms[1:]]
+    return "".join([f"{sign}{_text_without_sign(term)}" for sign, term in zip(signs, terms)])
 
 
 def _text_without_sign(term):
