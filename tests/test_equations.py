@@ -1,6 +1,7 @@
 import copy
 import itertools
 import random
+import time
 import unittest
 
 from oracles import DEPTHS, EMPTY, MIXED, NUMBERLESS, POWER, PRODUCTS, SHEETS, SUMS, TAGS
@@ -290,7 +291,10 @@ class LimitsTest(unittest.TestCase):
             for factors in ((1, 2, -1, 3), (0, 0, 1)):
                 numbers = {kind: tuple(f"n{n}" for n in range(many)) for kind in schema}
                 rules = random_rules(source, schema, numbers, [factor for factor in factors if factor], 3)
+                start = time.process_time()
                 self.allows((schema, numbers, rules), degree)
+                # Both calls together take a fraction of a second; the bound is for slow machines.
+                self.assertLess(time.process_time() - start, 10)
 
 
 class WrongInputsTest(unittest.TestCase):

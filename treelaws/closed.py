@@ -1,9 +1,7 @@
 """Whether forms are closed: 0 at a tree wherever all forms of the spaces are 0 at its parts."""
 
-from math import lcm
-
-from treelaws.forms import Form
-from treelaws.products import all_products
+from treelaws.echelon import rows_across
+from treelaws.products import all_products, row_of_terms
 from treelaws.spans import packed, weight_of
 
 
@@ -14,7 +12,7 @@ def are_closed(sheet, degree, spaces):
     further = {kind: _further_places(products[kind], numbers[kind], degree) for kind in schema}
     left = {kind: _rows_left(spaces[kind], products[kind]) for kind in schema}
     for kind, variants in schema.items():
-        forms = _rows_of_factors(spaces[kind], products[kind])
+        forms = [row_of_terms(form.terms, products[kind]) for form in spaces[kind].basis]
         for tag, children in variants:
             ruled = {name: rule for name, rule in zip(numbers[kind], rules[tag])}
             # The last product of a kind is that of no names.
@@ -32,30 +30,16 @@ def _further_places(products, names, degree):
             for product, place in places.items() if len(product) < degree for name in names}
 
 
-def _rows_of_factors(space, products):
-    """Returns the list of the rows of factors, at some products, of the basis of a space."""
-    rows = []
-    for form in space.basis:
-        factors = {names: factor for factor, names in form.terms}
-        rows.append([factors.get(product, 0) for product in products])
-    return rows
-
-
 def _rows_left(space, products):
     """Returns a list of rows that generate all rows, one number for each product, at which a space's forms are 0.
 
-    At such a row each product is as its rest divided by n: so the rests tell one row for each product
-    that can stand in a rest.
+    A sum over products cancels, with each product replaced by its rest divided by n, if and only if it
+    is 0 at these rows.
     """
-    rests = [space.rest(Form(((1, product),))) for product in products]
-    common = 1
-    for many, _ in rests:
-        common = lcm(common, many)
-    rows = {product: [0] * len(products) for product in space.free()}
-    for place, (many, rest) in enumerate(rests):
-        for factor, names in rest.terms:
-            rows[names][place] = common // many * factor
-    return list(rows.values())
+    places = {product: place for place, product in enumerate(products)}
+    rows = [{places[names]: factor for factor, names in form.terms} for form in space.basis]
+    across = rows_across({places[form.terms[0][1]]: row for form, row in zip(space.basis, rows)}, len(products))
+    return [[row.get(place, 0) for place in range(len(products))] for row in across]
 
 
 def _products_made(products, ruled, start, further):

@@ -39,6 +39,25 @@ def echelon_of(rows):
     return {column: found[column] for column in sorted(found, key=int)}
 
 
+def rows_across(echelon, many):
+    """Returns a list of rows, on the columns below many, that generate all rows across those of an echelon.
+
+    Two rows are across if the sum of the products of their factors, column by column, is 0.
+    """
+    return [_row_across(echelon, column) for column in range(many) if column not in echelon]
+
+
+def _row_across(echelon, column):
+    """Returns the row across those of an echelon that has only one column besides first columns."""
+    hit = [first for first, row in echelon.items() if column in row]
+    many = 1
+    for first in hit:
+        many = lcm(many, echelon[first][first])
+    across = {first: -echelon[first][column] * (many // echelon[first][first]) for first in hit}
+    across[column] = many
+    return across
+
+
 def _first_column(row):
     """Returns the first column of a row that is not empty."""
     return min([int(column) for column in row])

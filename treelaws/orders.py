@@ -1,7 +1,7 @@
 """Whether the listed trees of an order certificate are just the first trees."""
 
 from treelaws.plans import plans_of, values_of_parts, values_over
-from treelaws.products import all_products, row_of, row_plan
+from treelaws.products import all_products, row_of, row_of_terms, row_plan
 from treelaws.spans import Sieve, row_value
 from treelaws.trees import in_order, parts_of, size_of
 
@@ -14,7 +14,7 @@ class Listed:
     def __init__(self, names, degree, pairs, plans):
         products = all_products(names, degree)
         self.firsts = [tree for tree, _ in pairs]
-        self.forms = [_row_of_terms(terms, products) for _, terms in pairs]
+        self.forms = [row_of_terms(terms, products) for _, terms in pairs]
         self.sizes = [size_of(tree) for tree in self.firsts]
         self.told = [values_of_parts(plans, parts_of(tree))[0] for tree in self.firsts]
         self._plan = row_plan(names, degree)
@@ -31,12 +31,6 @@ class Listed:
         return None
 
 
-def _row_of_terms(terms, products):
-    """Returns the row of the factors of some terms at some products."""
-    factors = {names: factor for factor, names in terms}
-    return [factors.get(product, 0) for product in products]
-
-
 def is_ordered(sheet, degree, spaces, firsts):
     """Returns whether an order certificate is right, where firsts is a dict from the kinds to pairs as told.
 
@@ -50,7 +44,7 @@ def is_ordered(sheet, degree, spaces, firsts):
     for kind in schema:
         keys = [_key_of(schema, kind, listed, tree) for tree in listed[kind].firsts]
         products = all_products(numbers[kind], degree)
-        forms = [_row_of_terms(form.terms, products) for form in spaces[kind].basis]
+        forms = [row_of_terms(form.terms, products) for form in spaces[kind].basis]
         if None in keys or not _is_right(schema, kind, plans, listed, keys, forms):
             return False
     return True

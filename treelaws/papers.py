@@ -50,9 +50,7 @@ def shows_closed(sheet, degree, thing):
 def shows_equations(sheet, degree, thing):
     """Returns whether any object is a right certificate."""
     need_equations(sheet, degree)
-    if not isinstance(thing, tuple) or len(thing) != 2:
-        return False
-    spaces = _spaces_told(sheet, degree, thing[0])
+    spaces = _spaces_of_pair(sheet, degree, thing)
     if spaces is None or not _trees_span(sheet, degree, spaces, thing[1]):
         return False
     return are_closed(sheet, degree, spaces)
@@ -61,12 +59,17 @@ def shows_equations(sheet, degree, thing):
 def shows_order(sheet, degree, thing):
     """Returns whether any object is a right order certificate."""
     need_equations(sheet, degree)
-    if not isinstance(thing, tuple) or len(thing) != 2:
-        return False
-    spaces = _spaces_told(sheet, degree, thing[0])
+    spaces = _spaces_of_pair(sheet, degree, thing)
     if spaces is None or not _are_firsts(sheet, degree, spaces, thing[1]):
         return False
     return is_ordered(sheet, degree, spaces, thing[1])
+
+
+def _spaces_of_pair(sheet, degree, thing):
+    """Returns what _spaces_told returns for the first part of any object, or None if it is no pair."""
+    if not isinstance(thing, tuple) or len(thing) != 2:
+        return None
+    return _spaces_told(sheet, degree, thing[0])
 
 
 def _spaces_told(sheet, degree, thing):

@@ -50,3 +50,9 @@ def row_of(plan, told):
         level = [level[at] * singles[name] for at, name in steps]
         row = level + row
     return row
+
+
+def row_of_terms(terms, products):
+    """Returns the row of the factors of some terms (factor, product) at some products."""
+    factors = {product: factor for factor, product in terms}
+    return [factors.get(product, 0) for product in products]

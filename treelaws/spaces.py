@@ -1,6 +1,6 @@
 """Spaces: all forms over some names, up to a degree, that are sums of rational multiples of some forms."""
 
-from treelaws.echelon import echelon_of, rest_of
+from treelaws.echelon import echelon_of, rest_of, rows_across
 from treelaws.errors import Mismatch, NoForm
 from treelaws.forms import Form, is_form_over
 from treelaws.integers import is_integer
@@ -99,12 +99,14 @@ def _basis_of(rows):
 def _common_forms(one, other):
     """Returns a list of forms that generate what two bases have in common."""
     products = _columns_of([form.terms for form in one + other])
+    # What both have is just what is across all that is across the one or the other.
+    across = _across(one, products) + _across(other, products)
+    found = rows_across(echelon_of(across), len(products))
+    return [_form_of({products[place]: factor for place, factor in row.items()}) for row in found]
+
+
+def _across(basis, products):
+    """Returns a list of rows, on the places of some products, that generate all rows across those of a basis."""
     places = {product: place for place, product in enumerate(products)}
-    many = len(products)
-    # Rows of the one stand twice, side by side: where a sum with rows of the other one leaves nothing on the
-    # left, the right side tells what both have.
-    double = [{places[names] + side: factor for factor, names in form.terms for side in (0, many)} for form in one]
-    single = [{places[names]: factor for factor, names in form.terms} for form in other]
-    found = echelon_of(double + single)
-    return [_form_of({products[place - many]: factor for place, factor in row.items()})
-            for first, row in found.items() if first >= many]
+    rows = [{places[names]: factor for factor, names in form.terms} for form in basis]
+    return rows_across({places[form.terms[0][1]]: row for form, row in zip(basis, rows)}, len(products))
