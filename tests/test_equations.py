@@ -174,6 +174,20 @@ class EquationsTest(unittest.TestCase):
             self.assertEqual(found, {kind: tuple(trees) for kind, trees in search(sheet, 1).items()})
             self.check(sheet, 1)
 
+    def test_equations_with_large_factors(self):
+        for number in (10 ** 100 + 7, 3 ** 210, -PRIME, 10 ** 40 + 9):
+            schema, numbers, rules = with_large_number(number)
+            schema = {**schema, "last": (("zero", ("three", "three")), ("more", ("last",)))}
+            numbers = {**numbers, "last": ("x", "y", "z", "u", "v", "w")}
+            sums = tuple(plain_rule(*sorted([((0, name),), ((0, other),)])) for name, other in zip("yzuv", "zuvw"))
+            rules = {tag: rules[tag] for tag in ("t1", "t2", "t3")} | {
+                "zero": (rules["large"][0],) + ((),) * 5,
+                "more": (plain_rule(((0, "x"),)), plain_rule((), ((0, "y"),))) + sums}
+            sheet = (schema, numbers, rules)
+            self.assertIs(is_sheet(sheet), True)
+            found = self.check(sheet, 1)["last"]
+            self.assertEqual([str(form) for form in found.basis], [str(Form.named("x") - number)])
+
     def test_natural_numbers_of_long_rows(self):
         rules = {"end": ((), (), ((1, ()),), ((1, ()),), (), ()), "more": (
             ((1, ()), (1, ((0, "n"),))), ((1, ((0, "n"),)), (1, ((0, "tri"),))), ((2, ((0, "two"),)),),

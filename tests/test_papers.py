@@ -295,6 +295,22 @@ class CertificateTest(unittest.TestCase):
         self.assertIs(shows_closed(sheet, 2, {"row": ((a * b - b * b).terms, (a - b).terms)}), True)
         self.assertIs(shows_closed(POWER, 1, {"row": (((1, ("steps",)),),)}), False)
 
+    def test_values_that_might_hide_each_other(self):
+        # Two forms are not 0, but one is a power of two times the other: added up some bits apart they might cancel.
+        for bits in range(20):
+            rules = {"end": (((-2 ** bits, ()),), ((1, ()),)), "more": ((), ())}
+            for forms in ((((1, ("x",)),), ((1, ("y",)),)), (((1, ("y",)),), ((1, ("x",)),))):
+                self.assertIs(shows_closed((POWER[0], {"row": ("x", "y")}, rules), 1, {"row": forms}), False)
+        schema = {"child": (("end", ()),), "top": (("over", ("child",)), ("both", ("child", "child")))}
+        rules = {"end": ((), ()), "over": (((1, ((0, "p"),)),), ((1, ((0, "q"),)),)), "both": ((), ())}
+        sheet = (schema, {"child": ("p", "q"), "top": ("x", "y")}, rules)
+        for bits in range(90):
+            child = (Form.named("p") + 2 ** bits * Form.named("q"), 2 ** bits * Form.named("p") - Form.named("q"))
+            for form in child:
+                forms = {"child": (form.terms,), "top": (((1, ("x",)),), ((1, ("y",)),))}
+                self.assertIs(closed(sheet, 1, forms), False)
+                self.assertIs(shows_closed(sheet, 1, forms), False)
+
     def test_nothing_holds_and_all_holds(self):
         self.assertEqual(certificate(EMPTY, 1), ({"none": (((1, ("a",)),), ((1, ("b",)),), ((1, ()),)), "some": (((1, ("b",)),),)},
                                                  {"none": (), "some": (("bare",),)}))

@@ -176,7 +176,8 @@ class ShowsStoredTest(unittest.TestCase):
         yield price, names, told + told[:1]
         yield [price, names, told]
         for at, (name, many, terms) in enumerate(told):
-            for one in ((name, many * 2, tuple((factor * 2, product) for factor, product in terms)), (name, many * 2, terms),
+            for one in ((name, many + 1, terms), (name, many * 3 - 1, tuple((factor * 2, product) for factor, product in terms)),
+                        (name, many * 2, tuple((factor * 2, product) for factor, product in terms)), (name, many * 2, terms),
                         (name, -many, tuple((-factor, product) for factor, product in terms)), (name, many, terms + ((1, ()),)),
                         (name, many, tuple((factor * 3, product) for factor, product in terms)), (name, 0, ()), (name, many, list(terms)),
                         (name, True, terms), (None, many, terms), (name, many), [name, many, terms], (name, many, terms[::-1]),

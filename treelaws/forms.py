@@ -155,7 +155,7 @@ def _negative(terms):
 def _multiplied(one, other):
     """Returns the product of two forms; raises TooMany."""
     # The first terms never cancel, so the degree is known ahead of a long multiplication.
-    if one.terms and other.terms and one.degree + other.degree > _MOST_DEGREE:
+    if one.degree + other.degree > _MOST_DEGREE:
         raise TooMany(_MOST_DEGREE)
     return Form([(factor * times, names + more) for factor, names in one.terms for times, more in other.terms])
 
