@@ -58,6 +58,32 @@ EXAMPLES = r"""
 >>> sheet = ({"tree": (("leaf", ()), ("join", ("tree", "tree")))}, {"tree": ("tags", "leaves")}, {"leaf": (((1, ()),), ((1, ()),)), "join": (tags, leaves)})
 >>> [stored(sheet, "tree", {"tags": 5, "leaves": 1}), exchanges(sheet, "tree", {"tags": 3, "leaves": 3}, ("leaves",), ("tags",))]
 [(1, ('leaves',), (('tags', 1, ((2, ('leaves',)), (-1, ()))),)), [('leaves',), ('tags',)]]
+
+# Stage 11
+>>> from treelaws.bends import bends_within, blind_changes, distance, noticed_by
+>>> tags, leaves = ((1, ()), (1, ((0, "tags"),)), (1, ((1, "tags"),))), ((1, ((0, "leaves"),)), (1, ((1, "leaves"),)))
+>>> sheet = ({"tree": (("leaf", ()), ("join", ("tree", "tree")))}, {"tree": ("tags", "leaves")}, {"leaf": (((1, ()),), ((1, ()),)), "join": (tags, leaves)})
+>>> rules = {"end": ((), ()), "more": (((1, ()), (1, ((0, "steps"),))), ((1, ((0, "steps"),)), (1, ((0, "sum"),))))}
+>>> other = ({"row": (("end", ()), ("more", ("row",)))}, {"row": ("steps", "sum")}, rules)
+>>> [bends_within(sheet, "tree", ("tags", "leaves")), distance(sheet, "tree"), str(noticed_by(sheet, "tree", 1, (5, 4))), blind_changes(other, "row", 2, ("more", ("more", ("end",))), "steps")]
+[[(2, 1)], 2, '2*leaves - tags - 1', [-3]]
+
+# Stage 12
+>>> from treelaws.filters import added_equations, first_under, lacking, lets_by
+>>> schema = {"tree": (("leaf", ()), ("join", ("tree", "tree")))}
+>>> rules = {"leaf": ((), ((1, ()),)), "join": (((1, ()), (1, ((0, "depth"),))), ((1, ((0, "leaves"),)), (1, ((1, "leaves"),))))}
+>>> sheet = (schema, {"tree": ("depth", "leaves")}, rules)
+>>> comb = ({"top": (("leaf", ()), ("join", ("top", "end"))), "end": (("leaf", ()),)}, ("top",))
+>>> [[str(form) for form in added_equations(sheet, comb, 1)["tree"].basis], first_under(sheet, comb, 1)["tree"], lets_by(schema, comb, ("join", ("leaf",), ("join", ("leaf",), ("leaf",)))), lacking(schema, ({"any": (("leaf", ()), ("join", ("any", "any")))}, ("any",)), comb)["tree"]]
+[['depth - leaves + 1'], (('leaf',), ('join', ('leaf',), ('leaf',))), False, ('join', ('leaf',), ('join', ('leaf',), ('leaf',)))]
+
+# Stage 14
+>>> from treelaws.forms import Form
+>>> from treelaws.modulo import ModSpace, first_break_modulo, equations_modulo
+>>> sheet = ({"row": (("end", ()), ("more", ("row",)))}, {"row": ("steps", "sum")}, {"end": ((), ()), "more": (((1, ()), (1, ((0, "steps"),))), ((2, ((0, "steps"),)), (1, ((0, "sum"),))))})
+>>> found = equations_modulo(sheet, 1, 4)["row"]
+>>> [[str(form) for form in found.basis], found.many, first_break_modulo(sheet, "row", Form.named("sum"), 4), [str(form) for form in ModSpace(("a",), 1, 12, [8 * Form.named("a") + 6, Form.number(9)]).basis]]
+[['2*sum'], 2, ('more', ('more', ('end',))), ['4*a', '3']]
 """
 
 

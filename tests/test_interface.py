@@ -41,6 +41,22 @@ LISTED = {
         "is_enough": ["sheet", "kind", "names"], "cheapest_sets": ["sheet", "kind", "prices"],
         "stored": ["sheet", "kind", "prices"], "shows_stored": ["sheet", "kind", "prices", "thing"],
         "exchanges": ["sheet", "kind", "prices", "one", "other"]},
+    "bends": {
+        "bends_within": ["sheet", "kind", "names"], "distance": ["sheet", "kind"],
+        "noticed_by": ["sheet", "kind", "degree", "row"], "blind_changes": ["sheet", "kind", "degree", "tree", "name"],
+        "sure_numbers": ["sheet", "kind", "degree", "tree"]},
+    "filters": {
+        "is_filter": ["schema", "thing"], "states_at": ["schema", "some", "tree"], "lets_by": ["schema", "some", "tree"],
+        "lacking": ["schema", "one", "other"], "first_under": ["sheet", "some", "degree"],
+        "equations_under": ["sheet", "some", "degree"], "added_equations": ["sheet", "some", "degree"]},
+    "changes": {
+        "with_variant": ["sheet", "kind", "variant", "rules"], "without_variant": ["sheet", "tag"],
+        "with_rules": ["sheet", "tag", "rules"], "joined": ["one", "other"], "compared_equations": ["one", "other", "degree"],
+        "least_filters": ["sheet", "filters", "kind", "form"],
+        "cheapest_filters": ["sheet", "filters", "kind", "form", "prices"]},
+    "modulo": {
+        "ModSpace": ["names", "degree", "modulus", "forms"], "first_trees_modulo": ["sheet", "degree", "modulus"],
+        "equations_modulo": ["sheet", "degree", "modulus"], "first_break_modulo": ["sheet", "kind", "form", "modulus"]},
 }
 
 # file and class: its methods, each with its parameters behind self
@@ -51,8 +67,15 @@ METHODS = {
     ("spaces", "Space"): {
         "columns": [], "free": [], "rest": ["form"], "within": ["other"], "__or__": ["other"], "__and__": ["other"],
         "__eq__": ["other"], "__contains__": ["form"], "__len__": [], "__bool__": []},
+    ("modulo", "ModSpace"): {
+        "many": [], "columns": [], "rest": ["form"], "__or__": ["other"], "__and__": ["other"], "__eq__": ["other"],
+        "__contains__": ["form"], "__len__": [], "__bool__": []},
 }
-ATTRIBUTES = {("forms", "Form"): ("terms", "degree", "names"), ("spaces", "Space"): ("names", "degree", "basis")}
+PROPERTIES = {("modulo", "ModSpace"): ("many",)}
+# file and class: the arguments of an object, and its attributes
+ATTRIBUTES = {("forms", "Form"): (((),), ("terms", "degree", "names")),
+              ("spaces", "Space"): (((), 0, ()), ("names", "degree", "basis")),
+              ("modulo", "ModSpace"): (((), 0, 2, ()), ("names", "degree", "modulus", "basis"))}
 
 
 class InterfaceTest(unittest.TestCase):
@@ -87,11 +110,15 @@ class InterfaceTest(unittest.TestCase):
             self.assertEqual(len(inspect.signature(getattr(found, name)).parameters), 1)
 
     def test_attributes_are_set_on_each_object(self):
-        forms, spaces = importlib.import_module("treelaws.forms"), importlib.import_module("treelaws.spaces")
-        for (_, name), attributes in ATTRIBUTES.items():
-            made = forms.Form(()) if name == "Form" else spaces.Space((), 0, ())
+        for (file, name), (arguments, attributes) in ATTRIBUTES.items():
+            made = getattr(importlib.import_module(f"treelaws.{file}"), name)(*arguments)
             for attribute in attributes:
                 self.assertIn(attribute, vars(made))
+
+    def test_properties(self):
+        for (file, name), properties in PROPERTIES.items():
+            for one in properties:
+                self.assertIsInstance(vars(getattr(importlib.import_module(f"treelaws.{file}"), name))[one], property)
 
     def test_trees_generates(self):
         module = importlib.import_module("treelaws.trees")

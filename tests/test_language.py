@@ -49,13 +49,15 @@ class LanguageTest(unittest.TestCase):
             self.assertLessEqual(len(lines) - 1, 399, path)
             self.assertLessEqual(max(len(line) for line in lines), 120, path)
             self.assertTrue(all(" " <= sign <= "~" or sign == "\n" for sign in text), path)
+            for word in ("(type)", "Meta", "metaclass="):
+                self.assertNotIn(word, text, path)
 
     def test_functions_are_small_and_plain(self):
         for name, node in nodes(ast.FunctionDef):
             self.assertLessEqual(node.end_lineno - node.lineno + 1, 40, (name, node.name))
             self.assertFalse(node.args.vararg or node.args.kwarg or node.args.kwonlyargs or node.args.defaults, node.name)
             for decorator in node.decorator_list:
-                self.assertEqual(decorator.id, "staticmethod")
+                self.assertIn(decorator.id, ("staticmethod", "property"))
 
     def test_imports_are_full_names_of_the_defining_files_at_the_top(self):
         defined = {f"treelaws.{path.stem}": {node.name if hasattr(node, "name") else node.targets[0].id
@@ -125,6 +127,11 @@ class LanguageTest(unittest.TestCase):
                 keys = [keyword.value.id for keyword in node.keywords if keyword.arg == "key"]
                 self.assertTrue(keys and keys[0] in ("str", "int", "len") or any(is_plain(arg) for arg in node.args),
                                 (name, node.lineno))
+
+    def test_reversed_takes_plain_things(self):
+        for name, node in nodes(ast.Call):
+            if isinstance(node.func, ast.Name) and node.func.id == "reversed":
+                self.assertIn(node.args[0].func.id, ("list", "tuple", "sorted", "range"), (name, node.lineno))
 
     def test_sets_stand_where_they_may(self):
         parents = {child: node for tree in TREES.values() for node in ast.walk(tree) for child in ast.iter_child_nodes(node)}

@@ -33,6 +33,14 @@ def holds(sheet, kind, form):
     return first_break(sheet, kind, form) is None
 
 
+def break_within(finder, names, form, lets):
+    """Returns the first tree of a finder, in a situation that is let by, at which a form is not 0, or None."""
+    for tree, told, situation in zip(finder.firsts, finder.told, finder.situations):
+        if lets[situation] and _values_of_forms((form,), names, told)[0]:
+            return tree
+    return None
+
+
 def _first_tree(rows, place):
     """Returns the first tree of some pairs (tree, values) at which the value at a place is not 0, or None."""
     for tree, worths in rows:

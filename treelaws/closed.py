@@ -49,7 +49,7 @@ def _products_made(products, ruled, start, further):
     tuple for 1, and further tells for each child what a product makes with a name.
     """
     made = {(): {start: 1}}
-    for product in reversed(products):
+    for product in products[::-1]:
         if product:
             made[product] = _table_times(made[product[:-1]], ruled[product[-1]], further)
     return [made[product] for product in products]

@@ -21,10 +21,10 @@ def equations(sheet, degree):
 
 def spaces_of(sheet, degree, finders):
     """Returns a dict from the kinds, in order, to the spaces of their equations, by what a search found."""
-    return {kind: _space_of(sheet[1][kind], degree, finder.span) for kind, finder in finders.items()}
+    return {kind: space_of_span(sheet[1][kind], degree, finder.spans[0]) for kind, finder in finders.items()}
 
 
-def _space_of(names, degree, span):
+def space_of_span(names, degree, span):
     """Returns the space of the forms of some names that are 0 at a span."""
     if span.is_full():
         return Space(names, degree, [])

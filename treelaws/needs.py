@@ -1,6 +1,7 @@
 """What arguments must be: each function raises the error that the document tells, or does nothing."""
 
 from treelaws.errors import NoForm, NoKind, NoNumber, NoSheet, TooMany
+from treelaws.forms import is_form_over
 from treelaws.integers import is_integer
 from treelaws.names import are_names, is_name
 from treelaws.products import how_many_products
@@ -12,17 +13,30 @@ _MOST_PRODUCTS = 4000
 
 def need_equations(sheet, degree):
     """Raises what all that works with equations raises for any sheet and degree, up to TooMany(4000)."""
-    if not is_sheet(sheet):
-        raise NoSheet("what is passed is no sheet")
-    if not is_integer(degree) or not 1 <= degree <= _MOST_DEGREE:
-        raise NoForm("a degree is an integer from 1 to 3")
+    need_sheet(sheet)
+    need_degree(degree)
     need_few_products(sheet, degree)
+
+
+def need_sheet(thing):
+    """Raises NoSheet unless any object is a sheet."""
+    if not is_sheet(thing):
+        raise NoSheet("what is passed is no sheet")
+
+
+def need_degree(thing):
+    """Raises NoForm unless any object is a degree of equations."""
+    if not is_integer(thing) or not 1 <= thing <= _MOST_DEGREE:
+        raise NoForm("a degree is an integer from 1 to 3")
 
 
 def need_few_products(sheet, degree):
     """Raises TooMany(4000) if some tag has too many products of its children's numbers."""
-    schema, numbers, _ = sheet
-    many = {kind: how_many_products(len(names), degree) for kind, names in numbers.items()}
+    need_few(sheet[0], {kind: how_many_products(len(names), degree) for kind, names in sheet[1].items()})
+
+
+def need_few(schema, many):
+    """Raises TooMany(4000) if for some tag the product of how many its children's kinds have is above this."""
     for variants in schema.values():
         for _, children in variants:
             count = 1
@@ -36,6 +50,12 @@ def need_kind(sheet, kind):
     """Raises NoKind unless any object is a kind of a sheet."""
     if not is_name(kind) or kind not in sheet[0]:
         raise NoKind("what is passed is no kind of the sheet")
+
+
+def need_claim(sheet, kind, form):
+    """Raises NoForm unless any object is a form of a kind's numbers, of a degree of at most 3."""
+    if not is_form_over(form, sheet[1][kind], _MOST_DEGREE):
+        raise NoForm("what is passed is no form of the kind's numbers of at most degree 3")
 
 
 def need_number(sheet, kind, name):

@@ -37,7 +37,8 @@ def _terms_of(spaces):
 def _firsts_of(names, degree, finder):
     """Returns the tuple of the first trees of a kind, each with the terms of a form that makes it right."""
     products = all_products(names, degree)
-    return tuple([(tree, form_of_row(row, products).terms) for tree, row in zip(finder.firsts, finder.span.steps())])
+    steps = finder.spans[0].steps()
+    return tuple([(tree, form_of_row(row, products).terms) for tree, row in zip(finder.firsts, steps)])
 
 
 def shows_closed(sheet, degree, thing):

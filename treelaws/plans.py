@@ -38,7 +38,7 @@ def values_of_parts(plans, parts):
     """Returns the list of the values at all parts of a tree, each part ahead of its own parts, from the left."""
     below = []
     found = []
-    for part in reversed(parts):
+    for part in parts[::-1]:
         told = values_over(plans[part[0]], [below.pop() for _ in part[1:]])
         below.append(told)
         found.append(told)

@@ -15,7 +15,7 @@ def row_value(form, row):
 
 def packed(forms, bits):
     """Returns one row for several: at each place the sum of their factors, so many bits apart."""
-    rows = list(reversed(forms))
+    rows = forms[::-1]
     if not rows:
         return []
     joined = rows[0]
@@ -56,10 +56,10 @@ class Span:
     def __init__(self, width):
         self.width = width
         self.rows = []
-        self._forms = _unit_rows(width)
+        self._forms = unit_rows(width)
         self._done = 0
         self._sieve = None
-        self._residues = _unit_rows(width)
+        self._residues = unit_rows(width)
         self._sample = weights(width)
 
     def is_full(self):
@@ -95,7 +95,7 @@ class Span:
     def steps(self):
         """Returns for each row that was taken a form that is 0 at those ahead of it, but not at it."""
         steps = []
-        forms = _unit_rows(self.width)
+        forms = unit_rows(self.width)
         for row in self.rows:
             worths = [row_value(form, row) for form in forms]
             steps.append(forms[_last_place(worths)])
@@ -137,7 +137,7 @@ class Span:
                           for place, (form, worth) in enumerate(zip(self._residues, worths)) if place != at]
 
 
-def _unit_rows(width):
+def unit_rows(width):
     """Returns the list of the rows with one 1 and 0 elsewhere."""
     return [[1 if at == place else 0 for at in range(width)] for place in range(width)]
 

@@ -83,7 +83,7 @@ def _cheapest_sets(numbers, space, prices):
 def _subsets(numbers):
     """Returns the list of all sets of some numbers, as tuples in their order, by the tuples of their places."""
     found = [()]
-    for name in reversed(numbers):
+    for name in numbers[::-1]:
         found = [()] + [(name,) + names for names in found] + found[1:]
     return found
 

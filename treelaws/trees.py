@@ -112,7 +112,7 @@ def _sizes_of(parts):
     """Returns the list of the sizes of the parts that parts_of returns."""
     sizes = []
     below = []
-    for part in reversed(parts):
+    for part in parts[::-1]:
         size = 1 + sum([below.pop() for _ in part[1:]])
         below.append(size)
         sizes.append(size)
