@@ -84,6 +84,33 @@ EXAMPLES = r"""
 >>> found = equations_modulo(sheet, 1, 4)["row"]
 >>> [[str(form) for form in found.basis], found.many, first_break_modulo(sheet, "row", Form.named("sum"), 4), [str(form) for form in ModSpace(("a",), 1, 12, [8 * Form.named("a") + 6, Form.number(9)]).basis]]
 [['2*sum'], 2, ('more', ('more', ('end',))), ['4*a', '3']]
+
+# Stage 15
+>>> from treelaws.documents import Document
+>>> schema = {"tree": (("leaf", ()), ("join", ("tree", "tree")))}
+>>> document = Document((schema, {"tree": ("leaves",)}, {"leaf": (((1, ()),),), "join": (((1, ((0, "leaves"),)), (1, ((1, "leaves"),))),)}), "tree", ("join", ("leaf",), ("leaf",)))
+>>> document[(1,)] = ("join", ("leaf",), ("leaf",))
+>>> document.exchange((0,), (1, 1))
+>>> [document[()], len(document), document.paths(), document.changed(), document.deeds, (1, 2) in document]
+[{'leaves': 3}, 5, [(), (0,), (1,), (1, 0), (1, 1)], [], 2, False]
+
+# Stage 16
+>>> from treelaws.forms import Form
+>>> from treelaws.ledger import Ledger
+>>> steps, sum_rule = ((1, ()), (1, ((0, "steps"),))), ((1, ((0, "steps"),)), (1, ((0, "sum"),)))
+>>> ledger = Ledger(({"row": (("end", ()), ("more", ("row",)))}, {"row": ("steps", "sum")}, {"end": ((), ()), "more": (steps, sum_rule)}))
+>>> first, second = Form.named("steps"), Form.named("sum")
+>>> done = [ledger.keep("square", "row", first * first - first - 2 * second), ledger.put("one", "row", ("more", ("end",))), ledger.bend("one", (), "steps", 1)]
+>>> [done, ledger.alarms("one"), ledger.set_rules("more", (steps, ())), ledger.verdicts(), ledger.mark(), ledger.back(1), ledger.documents()]
+[[[], [], []], [((), 'square')], ['square'], {'square': ('more', ('more', ('end',)))}, 4, ['square'], {}]
+
+# Stage 17
+>>> from treelaws.console import Console
+>>> from treelaws.texts import format_rule, parse_form, parse_rule
+>>> console = Console()
+>>> lines = ["open : kind row steps sum | tag end | steps = 0 | sum = 0 | tag more row | steps = 1 + 0.steps | sum = 0.steps + 0.sum", "new row 2", "break row : sum*steps", "values : more(more(end))", "count row 3"]
+>>> [[console.execute(line) for line in lines], str(parse_form("2*a*b - 3 + a*b")), format_rule(parse_rule("0.b*2 - 4 + 1.a*0.b"))]
+[['ok', 'steps*steps - steps - 2*sum', 'more(more(end))', 'steps=2 sum=1', '1'], '3*a*b - 3', '-4 + 2*0.b + 0.b*1.a']
 """
 
 
@@ -95,3 +122,9 @@ class ExamplesTest(unittest.TestCase):
             failed, tried = doctest.DocTestRunner(verbose=False).run(test, out=sys.stderr.write)
             self.assertEqual(failed, 0, stage)
             self.assertGreater(tried, 3)
+
+    def test_all_examples_at_once(self):
+        lines = "\n".join(part.split("\n", 1)[1] for part in EXAMPLES.split("# Stage ")[1:])
+        test = doctest.DocTestParser().get_doctest(lines, {}, "all stages", None, 0)
+        self.assertEqual(doctest.DocTestRunner(verbose=False).run(test, out=sys.stderr.write).failed, 0)
+        self.assertEqual(len(EXAMPLES.split("# Stage ")) - 1, 13)

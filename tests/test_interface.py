@@ -57,6 +57,12 @@ LISTED = {
     "modulo": {
         "ModSpace": ["names", "degree", "modulus", "forms"], "first_trees_modulo": ["sheet", "degree", "modulus"],
         "equations_modulo": ["sheet", "degree", "modulus"], "first_break_modulo": ["sheet", "kind", "form", "modulus"]},
+    "documents": {"Document": ["sheet", "kind", "tree"]},
+    "ledger": {"Ledger": ["sheet"]},
+    "texts": {
+        "parse_tree": ["text"], "parse_form": ["text"], "parse_rule": ["text"], "parse_sheet": ["text"],
+        "format_tree": ["tree"], "format_rule": ["rule"], "format_sheet": ["sheet"]},
+    "console": {"Console": []},
 }
 
 # file and class: its methods, each with its parameters behind self
@@ -70,8 +76,19 @@ METHODS = {
     ("modulo", "ModSpace"): {
         "many": [], "columns": [], "rest": ["form"], "__or__": ["other"], "__and__": ["other"], "__eq__": ["other"],
         "__contains__": ["form"], "__len__": [], "__bool__": []},
+    ("documents", "Document"): {
+        "tree": [], "deeds": [], "paths": [], "part": ["path"], "__getitem__": ["path"], "__setitem__": ["path", "tree"],
+        "__contains__": ["path"], "__len__": [], "exchange": ["one", "other"], "undo": [], "redo": [], "changed": [],
+        "watch": ["kind", "form"], "failing": ["number"]},
+    ("ledger", "Ledger"): {
+        "sheet_now": [], "kept": [], "verdicts": [], "documents": [], "keep": ["name", "kind", "form"], "forget": ["name"],
+        "add_variant": ["kind", "variant", "rules"], "drop_variant": ["tag"], "set_rules": ["tag", "rules"],
+        "put": ["name", "kind", "tree"], "drop": ["name"], "replace": ["name", "path", "tree"], "exchange": ["name", "one", "other"],
+        "bend": ["name", "path", "number", "change"], "stored": ["name", "path"], "alarms": ["name"], "notes": [], "mark": [],
+        "back": ["number"], "need_tree": ["tree"]},
+    ("console", "Console"): {"execute": ["line"]},
 }
-PROPERTIES = {("modulo", "ModSpace"): ("many",)}
+PROPERTIES = {("modulo", "ModSpace"): ("many",), ("documents", "Document"): ("tree", "deeds")}
 # file and class: the arguments of an object, and its attributes
 ATTRIBUTES = {("forms", "Form"): (((),), ("terms", "degree", "names")),
               ("spaces", "Space"): (((), 0, ()), ("names", "degree", "basis")),

@@ -14,7 +14,7 @@ METHODS = set("append clear copy count endswith extend find get index insert isa
               "items join keys ljust lower lstrip partition pop remove replace reverse rfind rjust rpartition rsplit rstrip "
               "setdefault split splitlines startswith strip update upper values zfill bit_length".split())
 DUNDERS = set("__init__ __eq__ __str__ __len__ __call__ __lt__ __le__ __gt__ __ge__ __add__ __sub__ __mul__ __radd__ __rsub__ "
-              "__rmul__ __neg__ __bool__ __contains__ __or__ __and__".split())
+              "__rmul__ __neg__ __bool__ __contains__ __or__ __and__ __getitem__ __setitem__ __iter__".split())
 BARRED = set("register mro elements open input law version_info with_traceback add_note type typing enum namedtuple".split())
 STATEMENTS = (ast.Assign, ast.AugAssign, ast.If, ast.While, ast.For, ast.Return, ast.Break, ast.Continue, ast.Pass,
               ast.Raise, ast.Expr, ast.FunctionDef, ast.ClassDef, ast.ImportFrom)
@@ -114,7 +114,7 @@ class LanguageTest(unittest.TestCase):
         errors = {name for name in dir(builtins) if name.endswith("Error")}
         for name, node in nodes(ast.Call):
             if isinstance(node.func, ast.Name):
-                local = node.func.id == "form"
+                local = node.func.id in ("form", "action", "TypeError")
                 self.assertTrue(node.func.id in own | CALLED - errors or local, (name, node.func.id))
             else:
                 self.assertIn(node.func.attr, METHODS | own, name)
@@ -133,6 +133,15 @@ class LanguageTest(unittest.TestCase):
             if isinstance(node.func, ast.Name) and node.func.id == "reversed":
                 self.assertIn(node.args[0].func.id, ("list", "tuple", "sorted", "range"), (name, node.lineno))
 
+    def test_what_can_be_indexed_refuses_to_be_iterated(self):
+        found = 0
+        for name, node in nodes(ast.ClassDef):
+            methods = {part.name: part for part in node.body if isinstance(part, ast.FunctionDef)}
+            if "__getitem__" in methods:
+                self.assertIsInstance(methods["__iter__"].body[0], ast.Raise, name)
+                found += 1
+        self.assertEqual(found, 1)
+
     def test_sets_stand_where_they_may(self):
         parents = {child: node for tree in TREES.values() for node in ast.walk(tree) for child in ast.iter_child_nodes(node)}
         for name, node in nodes((ast.Set, ast.SetComp)):
@@ -147,6 +156,7 @@ class LanguageTest(unittest.TestCase):
         for path, tree in TREES.items():
             taken = {alias.name for node in tree.body if isinstance(node, ast.ImportFrom) for alias in node.names}
             taken |= {node.name for node in ast.walk(tree) if isinstance(node, ast.ClassDef)}
+            self.assertFalse([node.name for node in ast.walk(tree) if isinstance(node, ast.ClassDef) and node.name[0] == "_"])
             bound = [node.id for node in ast.walk(tree) if isinstance(node, ast.Name) and isinstance(node.ctx, ast.Store)]
             bound += [node.arg for node in ast.walk(tree) if isinstance(node, ast.arg)]
             methods = [part for node in ast.walk(tree) if isinstance(node, ast.ClassDef) for part in node.body
@@ -163,4 +173,7 @@ class LanguageTest(unittest.TestCase):
         methods = {part.name for _, node in nodes(ast.ClassDef) for part in node.body if isinstance(part, ast.FunctionDef)}
         taken = set(dir(str)) | set(dir(int)) | set(dir(list)) | set(dir(dict)) | set(dir(set)) | set(dir(bytes))
         self.assertEqual(attributes & methods, set())
-        self.assertEqual((attributes | methods) & taken - DUNDERS, set())
+        # L26 lets a method be called like some methods of strings.
+        self.assertEqual((attributes | methods) & taken - DUNDERS, {"replace"})
+        self.assertNotIn("replace", attributes)
+        self.assertNotIn("keys", attributes | methods)

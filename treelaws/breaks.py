@@ -1,7 +1,7 @@
 """The first trees at which forms are not 0."""
 
 from treelaws.errors import NoForm
-from treelaws.forms import is_form_over
+from treelaws.forms import Form, is_form_over
 from treelaws.needs import need_few_products, need_kind
 from treelaws.search import search
 
@@ -39,6 +39,24 @@ def break_within(finder, names, form, lets):
         if lets[situation] and _values_of_forms((form,), names, told)[0]:
             return tree
     return None
+
+
+def breaks_of(sheet, forms):
+    """Returns a dict from some names to the first trees at which their forms are not 0, None for an equation.
+
+    forms is a dict from these names to pairs of a kind and the terms of a form of its numbers. Raises what
+    first_break raises for one after the other.
+    """
+    finders = {}
+    found = {}
+    for name, (kind, terms) in forms.items():
+        form = Form(terms)
+        degree = max(1, form.degree)
+        if degree not in finders:
+            need_few_products(sheet, degree)
+            finders[degree] = search(sheet, degree)
+        found[name] = break_within(finders[degree][kind], sheet[1][kind], form, [True])
+    return found
 
 
 def _first_tree(rows, place):

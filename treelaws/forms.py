@@ -111,7 +111,7 @@ class Form:
         return _value_of(self.terms, values)
 
     def __str__(self):
-        return str(_text_of(self.terms))
+        return str(text_of_terms(self.terms))
 
 
 def _are_terms(thing):
@@ -171,8 +171,8 @@ def _value_of(terms, values):
     return total
 
 
-def _text_of(terms):
-    """Returns the text of a form with some terms."""
+def text_of_terms(terms):
+    """Returns the text of a sum of terms (factor, words), the words to stand in a product."""
     if not terms:
         return "0"
     signs = ["-" if terms[0][0] < 0 else ""] + [" - " if factor < 0 else " + " for factor, _ in terms[1:]]

@@ -1,14 +1,16 @@
 """What arguments must be: each function raises the error that the document tells, or does nothing."""
 
-from treelaws.errors import NoForm, NoKind, NoNumber, NoSheet, TooMany
+from treelaws.errors import NoForm, NoKind, NoNumber, NoSheet, NoTree, TooMany
 from treelaws.forms import is_form_over
 from treelaws.integers import is_integer
 from treelaws.names import are_names, is_name
 from treelaws.products import how_many_products
 from treelaws.sheets import is_sheet
+from treelaws.trees import is_tree, size_of
 
 _MOST_DEGREE = 3
 _MOST_PRODUCTS = 4000
+_MOST_TAGS = 200
 
 
 def need_equations(sheet, degree):
@@ -56,6 +58,19 @@ def need_claim(sheet, kind, form):
     """Raises NoForm unless any object is a form of a kind's numbers, of a degree of at most 3."""
     if not is_form_over(form, sheet[1][kind], _MOST_DEGREE):
         raise NoForm("what is passed is no form of the kind's numbers of at most degree 3")
+
+
+def need_tree_of(sheet, kind, tree):
+    """Raises NoTree unless any object is a tree of a kind, then TooMany(200) if it is a larger one."""
+    if not is_tree(sheet[0], kind, tree):
+        raise NoTree("what is passed is no tree of the kind")
+    need_small(tree)
+
+
+def need_small(tree):
+    """Raises TooMany(200) if a tree has more than 200 tags."""
+    if size_of(tree) > _MOST_TAGS:
+        raise TooMany(_MOST_TAGS)
 
 
 def need_number(sheet, kind, name):

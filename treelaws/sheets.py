@@ -76,6 +76,12 @@ def _ascend(things):
     return all([one < other for one, other in zip(things, things[1:])])
 
 
+def same_sheet(sheet):
+    """Returns the same sheet, with dicts of its own."""
+    schema, numbers, rules = sheet
+    return dict(schema), dict(numbers), dict(rules)
+
+
 def values(sheet, tree):
     """Returns the tuple of the values of the numbers of a tree."""
     return values_of_parts(plans_of(sheet), parts_of(tree))[0]

@@ -55,29 +55,39 @@ def paths(tree):
     return found
 
 
+def is_path(tree, thing):
+    """Returns whether any object is a path of a tree."""
+    return _parts_along(tree, thing) is not None
+
+
 def part_at(tree, path):
     """Returns the part at a path; raises NoPath."""
-    return _parts_along(tree, path)[-1]
+    along = _parts_along(tree, path)
+    if along is None:
+        raise NoPath("the tree has no such path")
+    return along[-1]
 
 
 def put_at(tree, path, part):
     """Returns the tree with another part at a path; raises NoPath."""
     along = _parts_along(tree, path)
+    if along is None:
+        raise NoPath("the tree has no such path")
     changed = part
     for index, old in reversed(list(zip(path, along))):
         changed = old[:index + 1] + (changed,) + old[index + 2:]
     return changed
 
 
-def _parts_along(tree, path):
-    """Returns the list of the parts from the tree itself to the one at a path."""
-    if not isinstance(path, tuple):
-        raise NoPath("a path is a tuple")
+def _parts_along(tree, thing):
+    """Returns the list of the parts from the tree itself to the one at a path, or None if any object is no path."""
+    if not isinstance(thing, tuple):
+        return None
     along = [tree]
-    for index in path:
+    for index in thing:
         part = along[-1]
         if not is_integer(index) or not 0 <= index < len(part) - 1:
-            raise NoPath("the tree has no such path")
+            return None
         along.append(part[index + 1])
     return along
 
