@@ -1,7 +1,7 @@
 """Changed and joined sheets, what becomes of their equations, and which filters a claim needs."""
 
 from treelaws.breaks import break_within
-from treelaws.equations import spaces_of
+from treelaws.equations import space_of_span, spaces_of
 from treelaws.errors import Mismatch, NameTaken, NoFilter, NoKind, NoPrice, NoSheet, TooMany
 from treelaws.filters import found_under, is_filter, rests_of
 from treelaws.integers import is_integer
@@ -11,6 +11,7 @@ from treelaws.runs import Runs
 from treelaws.schemas import tags_of
 from treelaws.search import search
 from treelaws.sheets import is_sheet
+from treelaws.spans import Span
 
 _MOST_FILTERS = 5
 _MOST_PRICE = 1000000
@@ -106,11 +107,24 @@ def compared_equations(one, other, degree):
     need_equations(other, degree)
     if list(one[1].items()) != list(other[1].items()):
         raise Mismatch("two sheets can be compared if they have the same kinds and numbers")
-    before = spaces_of(one, degree, search(one, degree))
-    finders = search(other, degree)
-    after = spaces_of(other, degree, finders)
-    return {kind: (space & after[kind], _lost(space, finders[kind], one[1][kind]), rests_of(space, after[kind]))
-            for kind, space in before.items()}
+    finders = search(one, degree)
+    others = search(other, degree)
+    before = spaces_of(one, degree, finders)
+    after = spaces_of(other, degree, others)
+    found = {}
+    for kind, space in before.items():
+        kept = _kept(space, finders[kind], others[kind])
+        found[kind] = (kept, _lost(space, others[kind], one[1][kind]), rests_of(space, after[kind]))
+    return found
+
+
+def _kept(space, finder, other):
+    """Returns the space of the forms that are 0 at the trees of two finders, where a space is that of the first one."""
+    span = Span(len(space.columns()))
+    # What both have is sought at the rows, which have less digits than the forms.
+    for row in finder.spans[0].rows + other.spans[0].rows:
+        span.takes(row)
+    return space_of_span(space.names, space.degree, span)
 
 
 def _lost(space, finder, names):
