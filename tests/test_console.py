@@ -268,7 +268,8 @@ class ConsoleTest(unittest.TestCase):
                      "replace a 0. : t", "replace a .0 : t", "replace a 00 : t", "replace a -1 : t", "replace a 1000001 : t", "exchange a .", "exchange a . . .",
                      "exchange a 0 0..0", "bend a . x", "bend a . x y", "bend a . x 1000001", "bend a . x -1000001", "bend a . x 1 ", "bend a x x 1", "back",
                      "back x", "back 1 2", "back 01", "look a", "look a 0,1", "look a 0 1", "alarms", "alarms a .", "open", "open:", "open :", "open kind a",
-                     "open x : kind a", "open  : kind a", "nothing", "sheet\n", "mark\t", "equations\tk 1"):
+                     "open x : kind a", "open  : kind a", "nothing", "sheet\n", "mark\t", "equations\tk 1",
+                     "back " + "1" * 9000, "back -" + "9" * 5000, "look a " + "1" * 5000, "count k " + "1" * 5000, "back -", "back --1", "back 1-"):
             self.assertRaises(InvalidCommand, console.execute, line)
         self.assertEqual(console.execute("mark"), "0")
         for line in ("notice k 1 1000000 -1000000", "stored k 1000000 0", "count k 40"):

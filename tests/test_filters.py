@@ -73,7 +73,8 @@ class IsFilterTest(unittest.TestCase):
             self.assertIs(is_filter(BINARY, thing), right)
 
     def test_of_no_schema(self):
-        self.assertIs(is_filter({}, COMB), False)
+        for schema in ({}, None, {"a": ["t"]}, {"tree": (("leaf",),)}):
+            self.assertIs(is_filter(schema, COMB), False)
         self.assertIs(is_filter(ROW, COMB), False)
 
 

@@ -133,6 +133,14 @@ class LanguageTest(unittest.TestCase):
             if isinstance(node.func, ast.Name) and node.func.id == "reversed":
                 self.assertIn(node.args[0].func.id, ("list", "tuple", "sorted", "range"), (name, node.lineno))
 
+    def test_views_are_iterated_on_the_spot(self):
+        # Only the first argument of zip may be a view.
+        for name, node in nodes(ast.Call):
+            if isinstance(node.func, ast.Name) and node.func.id == "zip":
+                for other in [other.func for other in node.args[1:] if isinstance(other, ast.Call)]:
+                    self.assertNotIn(getattr(other, "attr", ""), ("items", "keys", "values"), (name, node.lineno))
+                    self.assertNotIn(getattr(other, "id", ""), ("zip", "range", "enumerate", "reversed"), (name, node.lineno))
+
     def test_what_can_be_indexed_refuses_to_be_iterated(self):
         found = 0
         for name, node in nodes(ast.ClassDef):

@@ -309,6 +309,18 @@ class LedgerTest(unittest.TestCase):
         mixed.exchange("t", (1,), (0,))
         self.assertEqual([mixed.stored("t", path)["tags"] for path in ((0,), (1,))], [1, 1])
 
+    def test_alarms_of_forms_of_the_same_kind_alone(self):
+        # n is 0 at each tree of b, but not at those of a.
+        sheet = ({"a": (("one", ("b",)),), "b": (("two", ()),)}, {"a": ("n",), "b": ("n",)}, {"one": (((1, ()),),), "two": ((),)})
+        ledger = Ledger(sheet)
+        ledger.keep("x", "b", Form.named("n"))
+        ledger.keep("y", "a", Form.named("n") - 1)
+        ledger.put("t", "a", ("one", ("two",)))
+        ledger.bend("t", (), "n", 4)
+        self.assertEqual(ledger.alarms("t"), [((), "y")])
+        ledger.bend("t", (0,), "n", 1)
+        self.assertEqual(ledger.alarms("t"), [((), "y"), ((0,), "x")])
+
     def test_limits(self):
         ledger = Ledger(TAGS)
         for n in range(8):

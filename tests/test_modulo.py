@@ -163,8 +163,10 @@ class SpaceTest(unittest.TestCase):
         for thing in ALIENS + (["a"], ("a", "a"), ("A",), "ab"):
             if thing != ():
                 self.assertRaises(NoForm, ModSpace, thing, thing, thing, thing)
+                self.assertRaises(NoForm, ModSpace, thing, 1, 6, [])
         for thing in ALIENS + (-1, 4, "1"):
             self.assertRaises(NoForm, ModSpace, ("a",), thing, None, None)
+            self.assertRaises(NoForm, ModSpace, ("a",), thing, 6, [])
         for thing in ALIENS + (0, 1, 1001, -2, "2"):
             self.assertRaises(NoModulus, ModSpace, ("a",), 1, thing, None)
         for thing in ALIENS + (A, [A, 1], (A * A,), [B], (None,)):

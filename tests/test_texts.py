@@ -193,7 +193,7 @@ class SheetsTest(unittest.TestCase):
         for text, problem in (
                 ("kind", (1, 5)), ("kind \ntag t", (1, 6)), ("kind 3", (1, 6)), ("kind a b 3", (1, 10)), ("kind a\nkind a", (2, 6)),
                 ("tag t", (1, 1)), ("kind a\ntag", (2, 4)), ("kind a\ntag t\ntag t", (3, 5)), ("kind a\ntag t\n\nkind b\ntag t", (5, 5)),
-                ("x", (1, 1)), ("\n  x = 3", (2, 3)), ("kind = 3", (1, 1)), ("kind a\n tag = 3", (2, 2)), ("kind a\nx = 1", (2, 1)),
+                ("x", (1, 1)), ("\n  x = 3", (2, 3)), ("kind = 3", (1, 1)), ("kind =", (1, 1)), ("kind a\n tag = 3", (2, 2)), ("kind a\ntag =", (2, 1)), ("kind a\nx = 1", (2, 1)),
                 ("kind a x\ntag t", (2, 6)), ("kind a x\ntag t\n", (3, 1)), ("kind a x\ntag t\n\n  ", (4, 3)), ("kind a x\ntag t\ny = 1", (3, 1)),
                 ("kind a x\ntag t\nx", (3, 2)), ("kind a x\ntag t\nx 1", (3, 3)), ("kind a x\ntag t\nx =", (3, 4)), ("kind a x\ntag t\nx = = ", (3, 5)),
                 ("kind a x\ntag t\nkind b", (3, 1)), ("kind a kind\ntag t\nkind b", (3, 6)), ("kind a x\ntag t\nx = 1 2", (3, 7)),

@@ -90,7 +90,7 @@ def _blind_changes(basis, worths, name):
     changes = [row for row in changes if any(row)]
     if not changes:
         return None
-    return [many for many in _roots(changes[0]) if all([_worth_at(row, many) == 0 for row in changes])]
+    return [many for many in _near_roots(changes[0]) if all([_worth_at(row, many) == 0 for row in changes])]
 
 
 def _change_of(form, worths, name):
@@ -120,8 +120,8 @@ def _worth_at(row, many):
     return many * (row[0] + many * (row[1] + many * row[2]))
 
 
-def _roots(row):
-    """Returns the ascending list of the integers other than 0 at which a row of factors, not all 0, is 0."""
+def _near_roots(row):
+    """Returns an ascending list of integers other than 0, with all at which a row of factors, not all 0, is 0."""
     low, middle, high = row
     if high == 0:
         found = [-low // middle] if middle else []
@@ -129,5 +129,4 @@ def _roots(row):
         below = middle * middle - 4 * low * high
         root = isqrt(below) if below >= 0 else 0
         found = [(-middle - root) // (2 * high), (-middle + root) // (2 * high)]
-    # Whatever was rounded is no root.
-    return sorted(set([many for many in found if many and _worth_at(row, many) == 0]))
+    return sorted(set([many for many in found if many]))

@@ -59,7 +59,7 @@ class Document:
         return len(parts_of(self._past[self._present]))
 
     def exchange(self, one, other):
-        """Exchanges the parts at two paths; raises NoPath, NoTree, TooMany(200)."""
+        """Exchanges the parts at two paths; raises NoPath, NoTree, NoPath."""
         self._goes_to(exchanged(self._sheet[0], self._past[self._present], one, other))
 
     def _goes_to(self, tree):
@@ -111,5 +111,5 @@ class Document:
 
 def _told_by_path(sheet, tree):
     """Returns a dict from the paths of all parts, in order, to pairs of the part's kind and values."""
-    kinds = [kind_of(sheet[0], part[0]) for part in parts_of(tree)]
-    return {path: (kind, told) for kind, (path, told) in zip(kinds, all_values(sheet, tree).items())}
+    told = all_values(sheet, tree)
+    return {path: (kind_of(sheet[0], part[0]), told[path]) for path, part in zip(paths(tree), parts_of(tree))}

@@ -41,7 +41,7 @@ def _is_step(schema, states, thing):
     if not isinstance(thing, tuple) or len(thing) != 2:
         return False
     tag, some = thing
-    if not is_name(tag) or tag not in tags_of(schema) or not isinstance(some, tuple):
+    if tag not in tags_of(schema) or not isinstance(some, tuple):
         return False
     return len(some) == len(children_of(schema, tag)) and all([is_name(name) and name in states for name in some])
 

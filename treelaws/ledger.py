@@ -7,7 +7,7 @@ from treelaws.errors import Mismatch, NameTaken, NoMark, NoName, NoNumber, NoTre
 from treelaws.forms import Form
 from treelaws.integers import is_integer
 from treelaws.names import is_name
-from treelaws.needs import need_claim, need_kind, need_number, need_sheet, need_tree_of
+from treelaws.needs import need_kind, need_number, need_sheet, need_tree_of
 from treelaws.schemas import kind_of
 from treelaws.sheets import named_values, same_sheet
 from treelaws.states import State, turned
@@ -45,8 +45,6 @@ class Ledger:
         """Keeps a form under a name; raises NoName, NameTaken, TooMany(8), NoKind, NoForm, TooMany."""
         now = self._states[-1]
         _need_free(name, now.forms, _MOST_FORMS)
-        need_kind(now.sheet, kind)
-        need_claim(now.sheet, kind, form)
         tree = first_break(now.sheet, kind, form)
         return self._do(("keep", name, kind, form.terms), now.with_form(name, kind, form.terms, tree))
 
@@ -98,7 +96,7 @@ class Ledger:
         return self._do(("replace", name, path, tree), now.with_paper(name, kind, new))
 
     def exchange(self, name, one, other):
-        """Exchanges two parts of a document; raises NoName, NoPath, NoTree, NoPath, TooMany(200)."""
+        """Exchanges two parts of a document; raises NoName, NoPath, NoTree, NoPath."""
         now = self._states[-1]
         _need_held(name, now.papers)
         kind, old = now.papers[name]

@@ -55,7 +55,7 @@ def turned(before, after):
 
 def _with(held, key, thing):
     """Returns a dict with something more, or something else, under a key."""
-    new = dict(held)
+    new = {one: other for one, other in held.items()}
     new[key] = thing
     return new
 

@@ -17,7 +17,8 @@ def triangle_of(rows, width, modulus):
                 own = found[place]
                 common, many, times = common_divisor(own[place], rest[place])
                 less = -(rest[place] // common)
-                found[place] = _with_own(sum_modulo(many, own, times, rest, modulus), place, common)
+                if common < own[place]:
+                    found[place] = _with_own(sum_modulo(many, own, times, rest, modulus), place, common)
                 rest = sum_modulo(own[place] // common, rest, less, own, modulus)
     return [row[:place + 1] + rest_by(found, row, place + 1, modulus)[place + 1:] for place, row in enumerate(found)]
 
