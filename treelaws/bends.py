@@ -54,7 +54,7 @@ def noticed_by(sheet, kind, degree, row):
     if not isinstance(row, tuple) or len(row) != len(names) or not all([is_integer(worth) for worth in row]):
         raise Mismatch("stored values are a tuple with one integer for each number")
     worths = {name: worth for name, worth in zip(names, row)}
-    for form in _basis_of(sheet, kind, degree):
+    for form in _equations_of(sheet, kind, degree):
         if form(worths):
             return form
     return None
@@ -66,19 +66,19 @@ def blind_changes(sheet, kind, degree, tree, name):
     need_equations(sheet, degree)
     need_kind(sheet, kind)
     need_number(sheet, kind, name)
-    return _blind_changes(_basis_of(sheet, kind, degree), named_values(sheet, tree), name)
+    return _blind_changes(_equations_of(sheet, kind, degree), named_values(sheet, tree), name)
 
 
 def sure_numbers(sheet, kind, degree, tree):
     """Returns the tuple of the numbers of a tree of which each change breaks an equation, in order."""
     need_equations(sheet, degree)
     need_kind(sheet, kind)
-    basis = _basis_of(sheet, kind, degree)
+    basis = _equations_of(sheet, kind, degree)
     worths = named_values(sheet, tree)
     return tuple([name for name in sheet[1][kind] if _blind_changes(basis, worths, name) == []])
 
 
-def _basis_of(sheet, kind, degree):
+def _equations_of(sheet, kind, degree):
     """Returns the tuple of the basis forms of a kind's equations; raises TooMany(200)."""
     return spaces_of(sheet, degree, search(sheet, degree))[kind].basis
 

@@ -113,12 +113,12 @@ def compared_equations(one, other, degree):
     after = spaces_of(other, degree, others)
     found = {}
     for kind, space in before.items():
-        kept = _kept(space, finders[kind], others[kind])
+        kept = _kept_equations(space, finders[kind], others[kind])
         found[kind] = (kept, _lost(space, others[kind], one[1][kind]), rests_of(space, after[kind]))
     return found
 
 
-def _kept(space, finder, other):
+def _kept_equations(space, finder, other):
     """Returns the space of the forms that are 0 at the trees of two finders, where a space is that of the first one."""
     span = Span(len(space.columns()))
     # What both have is sought at the rows, which have less digits than the forms.

@@ -141,7 +141,7 @@ class SheetLines:
     def read(self, reader):
         """Reads a line that has tokens."""
         if self.due:
-            self._read_rule(reader)
+            self._read_due(reader)
         elif reader.word == "kind" and reader.word_behind() != "=":
             self._read_kind(reader)
         elif reader.word == "tag" and reader.word_behind() != "=" and self.schema:
@@ -150,7 +150,7 @@ class SheetLines:
             reader.refuse()
         reader.need_end()
 
-    def _read_rule(self, reader):
+    def _read_due(self, reader):
         reader.take(self.due[0])
         reader.take("=")
         self.rules[self._tag] = self.rules[self._tag] + (_read_rule(reader),)

@@ -19,15 +19,15 @@ class Reader:
         self._at = 0
         self._end = len(text) + 1
         self.word = ""
-        self._look()
+        self._set_word()
 
-    def _look(self):
+    def _set_word(self):
         self.word = self._tokens[self._at][0] if self._at < len(self._tokens) else ""
 
     def step(self):
         """Goes on to the next token."""
         self._at = self._at + 1
-        self._look()
+        self._set_word()
 
     def word_behind(self):
         """Returns the token behind the present one, or an empty string."""
