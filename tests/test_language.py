@@ -32,6 +32,40 @@ def is_plain(node):
     return isinstance(node, (ast.Constant, ast.JoinedStr)) or isinstance(node, ast.ListComp) and is_plain(node.elt)
 
 
+def called_by_operators():
+    """All functions that operators, properties and the like reach, each with its class or None, told by bare names."""
+    functions, methods, classes = {}, {}, {}
+    for tree in TREES.values():
+        for node in tree.body:
+            if isinstance(node, ast.FunctionDef):
+                functions.setdefault(node.name, []).append((None, node))
+            elif isinstance(node, ast.ClassDef):
+                parts = [part for part in node.body if isinstance(part, ast.FunctionDef)]
+                classes[node.name] = [(node.name, part) for part in parts if part.name == "__init__"]
+                for part in parts:
+                    methods.setdefault(part.name, []).append((node.name, part))
+    ahead = [one for name, some in methods.items() for one in some if name in DUNDERS - {"__init__", "__setitem__", "__iter__"}
+             or [mark for mark in one[1].decorator_list if mark.id == "property"]]
+    found = []
+    while ahead:
+        one = ahead.pop()
+        if one not in found:
+            found.append(one)
+            for node in ast.walk(one[1]):
+                if isinstance(node, ast.Call) and isinstance(node.func, ast.Name):
+                    ahead += functions.get(node.func.id, []) + classes.get(node.func.id, [])
+                elif isinstance(node, ast.Call) and node.func.attr != "__init__":
+                    ahead += methods.get(node.func.attr, [])
+    return found
+
+
+def base_of(node):
+    """The name to which an attribute, an item or a method's call belongs, or None."""
+    while isinstance(node, (ast.Attribute, ast.Subscript)):
+        node = node.value
+    return node.id if isinstance(node, ast.Name) else None
+
+
 class LanguageTest(unittest.TestCase):
     """Those rules of LANGUAGE.md that a few lines can check, some of them more strictly than they are told."""
 
@@ -127,6 +161,19 @@ class LanguageTest(unittest.TestCase):
                 keys = [keyword.value.id for keyword in node.keywords if keyword.arg == "key"]
                 self.assertTrue(keys and keys[0] in ("str", "int", "len") or any(is_plain(arg) for arg in node.args),
                                 (name, node.lineno))
+
+    def test_operators_change_only_what_they_created(self):
+        found = called_by_operators()
+        self.assertGreater(len(found), 60)
+        for owner, function in found:
+            parameters = [one.arg for one in function.args.args]
+            for node in ast.walk(function):
+                changed = isinstance(node, (ast.Attribute, ast.Subscript)) and isinstance(node.ctx, ast.Store)
+                calls = isinstance(node, ast.Call) and isinstance(node.func, ast.Attribute)
+                if changed or calls and node.func.attr in ("append", "clear", "extend", "insert", "pop", "remove", "reverse", "update"):
+                    base = base_of(node if changed else node.func.value)
+                    own = function.name == "__init__" and base == "self"
+                    self.assertTrue(own or base is not None and base not in parameters, (owner, function.name, node.lineno))
 
     def test_reversed_takes_plain_things(self):
         for name, node in nodes(ast.Call):
