@@ -33,12 +33,18 @@ def holds(sheet, kind, form):
     return first_break(sheet, kind, form) is None
 
 
-def break_within(finder, names, form, lets):
-    """Returns the first tree of a finder, in a situation that is let by, at which a form is not 0, or None."""
-    for tree, told, situation in zip(finder.firsts, finder.told, finder.situations):
-        if lets[situation] and _values_of_forms((form,), names, told)[0]:
+def break_of(finder, names, form):
+    """Returns the first tree of a finder at which a form is not 0, or None."""
+    for tree, told in zip(finder.firsts, finder.told):
+        if _values_of_forms((form,), names, told)[0]:
             return tree
     return None
+
+
+def all_broken(finder, names, form):
+    """Returns the list of pairs (tree, situation) of all trees of a finder at which a form is not 0, in order."""
+    return [(tree, situation) for tree, told, situation in zip(finder.firsts, finder.told, finder.situations)
+            if _values_of_forms((form,), names, told)[0]]
 
 
 def breaks_of(sheet, forms):
@@ -55,7 +61,7 @@ def breaks_of(sheet, forms):
         if degree not in finders:
             need_few_products(sheet, degree)
             finders[degree] = search(sheet, degree)
-        found[name] = break_within(finders[degree][kind], sheet[1][kind], form, [True])
+        found[name] = break_of(finders[degree][kind], sheet[1][kind], form)
     return found
 
 

@@ -1,6 +1,6 @@
 """Changed and joined sheets, what becomes of their equations, and which filters a claim needs."""
 
-from treelaws.breaks import break_within
+from treelaws.breaks import all_broken, break_of
 from treelaws.equations import space_of_span, spaces_of
 from treelaws.errors import Mismatch, NameTaken, NoFilter, NoKind, NoPrice, NoSheet, TooMany
 from treelaws.filters import found_under, is_filter, rests_of
@@ -129,7 +129,7 @@ def _kept_equations(space, finder, other):
 
 def _lost(space, finder, names):
     """Returns the list of pairs (form, tree) of those of a space's basis that are not 0 at some tree of a finder."""
-    trees = [break_within(finder, names, form, [True]) for form in space.basis]
+    trees = [break_of(finder, names, form) for form in space.basis]
     return [(form, tree) for form, tree in zip(space.basis, trees) if tree is not None]
 
 
@@ -181,8 +181,16 @@ def _breaks_by_choice(sheet, filters, kind, form):
     choices = [()]
     for at in range(len(filters)):
         choices = choices + [choice + (at,) for choice in choices]
-    names = sheet[1][kind]
-    return {choice: break_within(finder, names, form, runs.lets(choice, kind)) for choice in choices}
+    broken = all_broken(finder, sheet[1][kind], form)
+    return {choice: _first_let_by(broken, runs.lets(choice, kind)) for choice in choices}
+
+
+def _first_let_by(broken, lets):
+    """Returns the first one of some pairs' trees whose situation is let by, or None."""
+    for tree, situation in broken:
+        if lets[situation]:
+            return tree
+    return None
 
 
 def _is_part(choice, other):
