@@ -168,10 +168,15 @@ def first_of(sheet, kind, degree, trees):
 
 
 def search(sheet, degree):
-    """A dict from the kinds to the lists of first trees: all trees over first trees are tried, size by size, up to 200."""
-    schema, numbers, _ = sheet
+    """A dict from the kinds to the lists of their first trees."""
+    spans = {kind: Rows() for kind in sheet[0]}
+    return search_by(sheet, lambda kind, tree: spans[kind].take(row(sheet[1][kind], degree, value(sheet, tree))))
+
+
+def search_by(sheet, takes):
+    """The same: all trees over first trees are tried, size by size, up to 200; takes(kind, tree) tells which are first ones."""
+    schema = sheet[0]
     firsts = {kind: [] for kind in schema}
-    spans = {kind: Rows() for kind in schema}
     for total in range(1, 202):
         below = {kind: [(tree, size(tree)) for tree in trees] for kind, trees in firsts.items()}
         sizes = [1 + sum(max(part[1] for part in below[child]) for child in children)
@@ -183,7 +188,7 @@ def search(sheet, degree):
                    for parts in itertools.product(*[below[child] for child in children])
                    if 1 + sum(part[1] for part in parts) == total]
             for tree in ordered(schema, kind, new):
-                if spans[kind].take(row(numbers[kind], degree, value(sheet, tree))):
+                if takes(kind, tree):
                     firsts[kind].append(tree)
     raise AssertionError("the oracle is for small first trees")
 

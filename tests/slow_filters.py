@@ -2,8 +2,7 @@
 
 import itertools
 
-from oracles import Rows, ordered, row, value
-from samples import size
+from oracles import Rows, ordered, row, search_by, value
 
 
 def counting(modulus, roots=(0,)):
@@ -52,29 +51,19 @@ def lets(some, tree):
 
 
 def search_under(sheet, filters, degree):
-    """A dict from the kinds to the dicts from the situations to their first trees, by trying all trees over these.
+    """A dict from the kinds to the dicts from the situations to their first trees."""
+    spans, found = {}, {kind: {} for kind in sheet[0]}
 
-    No more is known of a tree than its parts; all situations that turn up are kept.
-    """
-    schema, numbers, _ = sheet
-    found = {kind: {} for kind in schema}
-    spans = {}
-    for total in range(1, 202):
-        below = {kind: [(tree, size(tree)) for some in lists.values() for tree in some] for kind, lists in found.items()}
-        sizes = [1 + sum(max(part[1] for part in below[child]) for child in children)
-                 for variants in schema.values() for _, children in variants if all(below[child] for child in children)]
-        if total > max(sizes, default=0):
-            return found
-        for kind, variants in schema.items():
-            new = [(tag, *[part for part, _ in parts]) for tag, children in variants
-                   for parts in itertools.product(*[below[child] for child in children])
-                   if 1 + sum(part[1] for part in parts) == total]
-            for tree in ordered(schema, kind, new):
-                situation = tuple(states_by_parts(some, tree) for some in filters)
-                span = spans.setdefault((kind, situation), Rows())
-                if span.take(row(numbers[kind], degree, value(sheet, tree))):
-                    found[kind].setdefault(situation, []).append(tree)
-    raise AssertionError("the oracle is for small first trees")
+    def takes(kind, tree):
+        situation = tuple(states_by_parts(some, tree) for some in filters)
+        span = spans.setdefault((kind, situation), Rows())
+        if not span.take(row(sheet[1][kind], degree, value(sheet, tree))):
+            return False
+        found[kind].setdefault(situation, []).append(tree)
+        return True
+
+    search_by(sheet, takes)
+    return found
 
 
 def first_of_those(sheet, kind, degree, trees):

@@ -148,7 +148,7 @@ class LanguageTest(unittest.TestCase):
         errors = {name for name in dir(builtins) if name.endswith("Error")}
         for name, node in nodes(ast.Call):
             if isinstance(node.func, ast.Name):
-                local = node.func.id in ("form", "action", "TypeError")
+                local = node.func.id in ("form", "action", "read", "TypeError")
                 self.assertTrue(node.func.id in own | CALLED - errors or local, (name, node.func.id))
             else:
                 self.assertIn(node.func.attr, METHODS | own, name)

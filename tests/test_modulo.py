@@ -5,8 +5,8 @@ import random
 import unittest
 
 from oracles import EMPTY, MIXED, NUMBERLESS, POWER, SHEETS, SUMS, TAGS
-from oracles import all_trees, products, random_sheets, row, value, value_of
-from samples import ALIENS, CHAIN, TERNARY, ordered, size
+from oracles import all_trees, products, random_sheets, row, search_by, value, value_of
+from samples import ALIENS, CHAIN, TERNARY, size
 from test_filters import bare, limit_of
 from treelaws.errors import Mismatch, NoForm, NoKind, NoModulus, NoSheet, TooMany
 from treelaws.forms import Form
@@ -186,24 +186,9 @@ class SpaceTest(unittest.TestCase):
 
 
 def slow_firsts(sheet, degree, modulus):
-    """First trees modulo a number, by the triangle of a ModSpace over one name for each product."""
-    schema, numbers, _ = sheet
-    firsts = {kind: [] for kind in schema}
-    sums = {kind: Sums(len(products(names, degree)), modulus) for kind, names in numbers.items()}
-    for total in range(1, 202):
-        below = {kind: [(tree, size(tree)) for tree in trees] for kind, trees in firsts.items()}
-        sizes = [1 + sum(max(part[1] for part in below[child]) for child in children)
-                 for variants in schema.values() for _, children in variants if all(below[child] for child in children)]
-        if total > max(sizes, default=0):
-            return firsts
-        for kind, variants in schema.items():
-            new = [(tag, *[part for part, _ in parts]) for tag, children in variants
-                   for parts in itertools.product(*[below[child] for child in children])
-                   if 1 + sum(part[1] for part in parts) == total]
-            for tree in ordered(schema, kind, new):
-                if sums[kind].take(row(numbers[kind], degree, value(sheet, tree))):
-                    firsts[kind].append(tree)
-    raise AssertionError("the oracle is for small first trees")
+    """A dict from the kinds to the lists of their first trees modulo a number."""
+    sums = {kind: Sums(len(products(names, degree)), modulus) for kind, names in sheet[1].items()}
+    return search_by(sheet, lambda kind, tree: sums[kind].take(row(sheet[1][kind], degree, value(sheet, tree))))
 
 
 class Sums:

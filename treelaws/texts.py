@@ -13,10 +13,25 @@ _INDEXES = ("0", "1", "2")
 
 def parse_tree(text):
     """Returns the tree that a text tells; raises SyntaxProblem."""
+    return _read_whole(text, _read_tree)
+
+
+def parse_form(text):
+    """Returns the form that a text tells; raises SyntaxProblem."""
+    return _read_whole(text, _read_form)
+
+
+def parse_rule(text):
+    """Returns the rule that a text tells; raises SyntaxProblem."""
+    return _read_whole(text, _read_rule)
+
+
+def _read_whole(text, read):
+    """Returns what a function reads in a text; raises SyntaxProblem, also if it does not read to the end."""
     reader = Reader(text, 1)
-    tree = _read_tree(reader)
+    told = read(reader)
     reader.need_end()
-    return tree
+    return told
 
 
 def _read_tree(reader):
@@ -44,20 +59,9 @@ def _goes_on(reader, parts, tags):
     return reader.word == "," and tags < _MOST_TAGS and len(parts) < _MOST_PARTS
 
 
-def parse_form(text):
-    """Returns the form that a text tells; raises SyntaxProblem."""
-    reader = Reader(text, 1)
-    terms = _read_sum(reader, False)
-    reader.need_end()
-    return Form(terms)
-
-
-def parse_rule(text):
-    """Returns the rule that a text tells; raises SyntaxProblem."""
-    reader = Reader(text, 1)
-    rule = _read_rule(reader)
-    reader.need_end()
-    return rule
+def _read_form(reader):
+    """Reads a form."""
+    return Form(_read_sum(reader, False))
 
 
 def _read_rule(reader):
