@@ -9,7 +9,9 @@ from oracles import all_trees, first_of, null_rows, products, random_rules, rand
 from samples import ALIENS, BINARY, CHAIN, ROW, TERNARY, row as row_tree, size, with_aliens
 from treelaws.equations import equations, first_trees
 from treelaws.errors import NoForm, NoSheet, TooMany
+from treelaws.filters import first_under
 from treelaws.forms import Form
+from treelaws.modulo import first_trees_modulo
 from treelaws.residues import PRIME
 from treelaws.sheets import is_sheet, named_values
 from treelaws.spaces import Space
@@ -248,6 +250,27 @@ class LimitsTest(unittest.TestCase):
                 self.refuses(200, sheet(schema), 2)
             else:
                 self.assertEqual(size(self.allows(sheet(schema), 2)["a6"][0]), most)
+
+    def test_larger_trees_that_are_no_first_ones(self):
+        schema = {**{kind: variants for kind, variants in CHAIN.items() if kind != "k1"}, "top": (("one", ()), ("two", ("k2", "k2")))}
+        numbers = {kind: ("n",) if kind == "top" else () for kind in schema}
+        rules = {**{f"t{n}": () for n in range(2, 7)}, "one": (((1, ()),),), "two": (((1, ()),),)}
+        for degree in DEGREES:
+            self.assertEqual(self.allows((schema, numbers, rules), degree)["top"], (("one",),))
+            for modulus in (2, 9):
+                self.assertEqual(first_trees_modulo((schema, numbers, rules), degree, modulus)["top"], (("one",),))
+            self.refuses(200, (schema, numbers, {**rules, "two": (((2, ()),),)}), degree)
+            # Modulo 2 the numbers 1 and 3 are the same.
+            sheet = (schema, numbers, {**rules, "two": (((3, ()),),)})
+            self.assertEqual(first_trees_modulo(sheet, degree, 2)["top"], (("one",),))
+            with self.assertRaises(TooMany):
+                first_trees_modulo(sheet, degree, 4)
+            # Under a filter the two trees are in two situations, if runs lead to two states.
+            same = ({"a": tuple((tag, ("a",) * len(children)) for variants in schema.values() for tag, children in variants)}, ("a",))
+            self.assertEqual(first_under((schema, numbers, rules), same, degree)["top"], (("one",),))
+            two = ({"a": tuple(step for step in same[0]["a"] if step[0] != "two"), "b": (("two", ("a", "a")),)}, ("a",))
+            with self.assertRaises(TooMany):
+                first_under((schema, numbers, rules), two, degree)
 
     def test_numbers_that_only_full_trees_make(self):
         for schema, tag, parts in ((BINARY, "join", 2), (TERNARY, "fork", 3)):
