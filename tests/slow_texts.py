@@ -100,14 +100,14 @@ def problem_at(tokens, told, ended, line, end):
 
 
 def sheet_problem(text):
-    """The same for the text of a sheet; besides the rows of tokens of its lines."""
+    """The same for the text of a sheet, line by line."""
     lines = text.split("\n")
-    try:
-        rows = [tokens_of(line, place) for place, line in enumerate(lines, 1)]
-    except Problem as problem:
-        return problem.args
     kinds, tags, numbers, due = [], [], [], []
-    for place, (line, tokens) in enumerate(zip(lines, rows), 1):
+    for place, line in enumerate(lines, 1):
+        try:
+            tokens = tokens_of(line, place)
+        except Problem as problem:
+            return problem.args
         words = [word for word, _ in tokens]
         if not words:
             continue

@@ -300,7 +300,9 @@ class ConsoleTest(unittest.TestCase):
         console = Console()
         for line, problem in (("open : kind k | kind  k", (2, 7)), ("open : kind k |kind j", (1, 8)), ("open : kind k x | tag t", (2, 6)),
                               ("break kind : ", (1, 1)), ("values : tag tag", (1, 5)), ("rules tag : 0; 1; x", (1, 1)), ("rules tag : 0; 1;x", (1, 2)),
-                              ("keep a kind : 1 : 2", (1, 3)), ("open : kind k\ntag t t)", (2, 8))):
+                              ("keep a kind : 1 : 2", (1, 3)), ("open : kind k\ntag t t)", (2, 8)),
+                              ("open : kind a | tag 5 | A", (2, 5)), ("open : kind a x | tag t | x = 1 1 | ;", (3, 7)),
+                              ("open : kind a | tag 5 A | x", (2, 7)), ("open : kind a | A | tag 5", (2, 1)), ("open : kind a | tag 5\n;", (2, 5))):
             with self.assertRaises(SyntaxProblem) as caught:
                 console.execute(line)
             self.assertEqual((caught.exception.line, caught.exception.column), problem, line)

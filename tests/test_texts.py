@@ -198,9 +198,23 @@ class SheetsTest(unittest.TestCase):
                 ("kind a x\ntag t\nx", (3, 2)), ("kind a x\ntag t\nx 1", (3, 3)), ("kind a x\ntag t\nx =", (3, 4)), ("kind a x\ntag t\nx = = ", (3, 5)),
                 ("kind a x\ntag t\nkind b", (3, 1)), ("kind a kind\ntag t\nkind b", (3, 6)), ("kind a x\ntag t\nx = 1 2", (3, 7)),
                 ("kind a x\ntag t\nx = 1\nx = 1", (4, 1)), ("kind a x y\ntag t\nx = 1\n", (4, 1)), ("kind a x y\ntag t\nx = 1\nx = 1", (4, 1)),
-                ("kind a\ntag t 3", (2, 7)), ("kind a\ntag t = 3", (2, 7)), ("x\nkind B", (2, 6)), ("kind a, b", (1, 7)), ("kind a\n\n=", (3, 1)),
+                ("kind a\ntag t 3", (2, 7)), ("kind a\ntag t = 3", (2, 7)), ("x\nkind B", (1, 1)), ("kind a, b", (1, 7)), ("kind a\n\n=", (3, 1)),
                 ("kind a x\ntag t\nx = 0.y*0.z", (3, 10)), ("kind a tag\ntag t\ntag = 1\ntag u\ntag v", (5, 5)), ("kind a\n= 1", (2, 1)),
                 ("kind a\n2 = 1", (2, 1)), ("kind abcdefghi\nA", (1, 6)), ("kind a : b", (1, 8))):
+            self.lines(text, problem)
+
+    def test_what_is_no_token_waits_for_earlier_lines(self):
+        for text, problem in (
+                # An earlier line is refused at a token, or ends too early.
+                ("kind a\ntag 5\nA", (2, 5)), ("kind a\nkind a\n;", (2, 6)), ("tag t\n\nabcdefghi", (1, 1)), ("kind a\nx = 1\n007", (2, 1)),
+                ("kind a\ntag t\ntag t\nB", (3, 5)), ("kind\nA", (1, 5)), ("kind a\ntag \nA", (2, 5)), ("kind a x\ntag t\nx = 1 +\n;", (3, 8)),
+                ("kind a x\ntag t\nx\nA", (3, 2)), ("kind a x\ntag t\nkind b\nA", (3, 1)), ("kind a x\ntag t\nx = 0.y*0.z\n" + "9" * 41, (3, 10)),
+                # Within its line it comes first, also where the line is refused anyway.
+                ("kind a\ntag 5 A", (2, 7)), ("kind a\nkind a ;\ntag 5", (2, 8)), ("tag t\tabcdefghi", (1, 7)), ("kind a\nx = 007", (2, 5)),
+                ("kind a x\ntag t\ny = 0.a;", (3, 8)), ("kind a x\ntag t\nx = 1 1 " + "9" * 41, (3, 9)),
+                # Ahead of later lines, and of the end where a rule is due, it comes first.
+                ("kind a\nA\ntag 5", (2, 1)), ("kind a\ntag t ;\nx = 1", (2, 7)), ("A\nB", (1, 1)), ("kind a x\ntag t\n;", (3, 1)),
+                ("kind a x\ntag t\n\n  ;\n", (4, 3)), ("kind a x x\ntag t\nx = 1\nx = A", (4, 5))):
             self.lines(text, problem)
 
     def test_no_sheets(self):

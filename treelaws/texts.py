@@ -181,10 +181,10 @@ class SheetLines:
 def parse_sheet(text):
     """Returns the sheet that a text tells; raises SyntaxProblem, then NoSheet."""
     lines = text.split("\n")
-    # All tokens are read ahead of everything else.
-    readers = [Reader(line, place + 1) for place, line in enumerate(lines)]
     told = SheetLines()
-    for reader in readers:
+    for place, line in enumerate(lines):
+        # Tokens are read line by line: a problem in an earlier line comes ahead of what is no token in a later one.
+        reader = Reader(line, place + 1)
         if reader.word:
             told.read(reader)
     if told.due:
